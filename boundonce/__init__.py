@@ -1,0 +1,1 @@
+"""Boundonce: plans that are bound once, and what they stand on."""

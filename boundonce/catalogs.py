@@ -1,0 +1,142 @@
+"""Catalogs: what stands where, and what is declared of it."""
+
+from boundonce.errors import InvalidCatalog, Unknown
+from boundonce.forms import are_different, is_number, is_pair, is_tuple_of
+from boundonce.holdings import Holding
+from boundonce.names import is_name, is_type_list
+
+MOST_TYPES = 4
+
+
+class Catalog:
+    """A catalog, which is never changed: a deed makes another one."""
+
+    def __init__(self, types, casts=()):
+        if not are_types(types) or not are_casts(casts, types):
+            raise InvalidCatalog("a catalog has one to four types, and casts between two of them")
+        self._types = tuple(sorted(types))
+        self._casts = tuple(sorted(casts))
+        self._holding = Holding()
+        self._places = {}
+        self._functions = {}
+
+    @property
+    def types(self):
+        """The types, ascending."""
+        return self._types
+
+    @property
+    def casts(self):
+        """The casts, ascending."""
+        return self._casts
+
+    @property
+    def next_number(self):
+        """The number that the next thing gets."""
+        return self._holding.following
+
+    @property
+    def all_numbers(self):
+        """The numbers of all things, ascending."""
+        return sorted(self._holding.things)
+
+    def __eq__(self, other):
+        return (
+            isinstance(other, Catalog)
+            and self._types == other._types
+            and self._casts == other._casts
+            and self._holding.things == other._holding.things
+            and self._holding.facts == other._holding.facts
+            and self._holding.rights == other._holding.rights
+            and self._holding.rules == other._holding.rules
+        )
+
+    def thing_of(self, number):
+        """Return the thing with a number."""
+        if not is_number(number) or number not in self._holding.things:
+            raise Unknown("no thing has this number")
+        return self._holding.things[number]
+
+    def standing_at(self, schema, name):
+        """Return the number of the table or view that stands there, or None."""
+        if not is_name(schema) or not is_name(name):
+            return None
+        return self._places.get((schema, name))
+
+    def function_at(self, schema, name, types):
+        """Return the number of the function that stands there, or None."""
+        if not is_name(schema) or not is_name(name) or not is_type_list(types):
+            return None
+        return self._functions.get((schema, name, types))
+
+    def column_of(self, table, name):
+        """Return the number of a column of a table, or None."""
+        if not self.is_table(table):
+            return None
+        for number in self._holding.things[table][3]:
+            if self._holding.things[number][2] == name:
+                return number
+        return None
+
+    def facts_of(self, table):
+        """Return the declared facts of a table, ascending."""
+        if not self.is_table(table):
+            raise Unknown("no table has this number")
+        return list(self._holding.facts[table])
+
+    def has_right(self, role, number):
+        """Return whether a role has the right on a table or view."""
+        return is_name(role) and is_number(number) and (role, number) in self._holding.rights
+
+    def rule_for(self, role, number):
+        """Return the rule of a role for a table, or None."""
+        if not is_name(role) or not is_number(number):
+            return None
+        return self._holding.rules.get((role, number))
+
+    def numbered_from(self, number):
+        """Return the catalog with this next number, or with its own one if that is greater."""
+        holding = self.copied_holding()
+        holding.following = max(holding.following, number)
+        return self.with_holding(holding)
+
+    def is_table(self, thing):
+        """Return whether any object is the number of a table."""
+        return is_number(thing) and thing in self._holding.facts
+
+    def copied_holding(self):
+        """Return what the catalog holds, to be changed."""
+        return self._holding.copied()
+
+    def with_holding(self, holding):
+        """Return the catalog that holds this, which is not changed from then on."""
+        catalog = Catalog(self._types, self._casts)
+        catalog._holding = holding
+        for number in holding.things:
+            word, schema, name, *rest = holding.things[number]
+            if word == "function":
+                catalog._functions[(schema, name, rest[0])] = number
+            elif word != "column":
+                catalog._places[(schema, name)] = number
+        return catalog
+
+
+def are_types(thing):
+    """Return whether any object is a tuple or list of types for a catalog."""
+    if not isinstance(thing, (tuple, list)):
+        return False
+    return is_tuple_of(tuple(thing), 1, MOST_TYPES, is_name) and are_different(thing)
+
+
+def are_casts(thing, types):
+    """Return whether any object is a tuple or list of casts between these types."""
+    if not isinstance(thing, (tuple, list)):
+        return False
+    if not all([is_cast(pair, types) for pair in thing]):
+        return False
+    return are_different(thing)
+
+
+def is_cast(thing, types):
+    """Return whether any object is a pair of two of these types."""
+    return is_pair(thing) and thing[0] in types and thing[1] in types and thing[0] != thing[1]

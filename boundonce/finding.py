@@ -1,0 +1,50 @@
+"""What a statement means by names, with and without a schema."""
+
+
+def meant(catalog, path, schema, name):
+    """Return the number of the table or view that is meant, or None."""
+    schemas = path if schema is None else (schema,)
+    for at in schemas:
+        number = catalog.standing_at(at, name)
+        if number is not None:
+            return number
+    return None
+
+
+def schemas_ahead(catalog, path, name):
+    """Return the schemas of the path ahead of the first one in which a table or view has the name."""
+    ahead = []
+    for schema in path:
+        if catalog.standing_at(schema, name) is not None:
+            return ahead
+        ahead.append(schema)
+    return ahead
+
+
+def functions_for(catalog, path, schema, name, size):
+    """Return the numbers of the functions of a call with so many terms, ascending."""
+    schemas = path if schema is None else (schema,)
+    found = []
+    for types in type_lists(catalog, size):
+        number = first_function(catalog, schemas, name, types)
+        if number is not None:
+            found.append(number)
+    return sorted(found)
+
+
+def first_function(catalog, schemas, name, types):
+    """Return the number of the first function of a name and a list in these schemas, or None."""
+    for schema in schemas:
+        number = catalog.function_at(schema, name, types)
+        if number is not None:
+            return number
+    return None
+
+
+def type_lists(catalog, size):
+    """Return the lists of so many types with which a function of the catalog may stand."""
+    if size == 1:
+        return [(one,) for one in catalog.types]
+    if size == 2:
+        return [(one, two) for one in catalog.types for two in catalog.types]
+    return []

@@ -1,0 +1,38 @@
+"""Names and values: the words that everything else is made of."""
+
+from boundonce.forms import are_different, is_tuple_of
+
+LETTERS = "abcdefghijklmnopqrstuvwxyz"
+MOST_LETTERS = 8
+MOST_VALUES = 8
+MOST_HANDED_IN = 2
+RESERVED = ("select", "distinct", "as", "from", "where", "and", "in")
+
+
+def is_name(thing):
+    """Return whether any object is a name."""
+    return is_value(thing) and thing not in RESERVED
+
+
+def is_value(thing):
+    """Return whether any object is a value."""
+    if not isinstance(thing, str) or not 1 <= len(thing) <= MOST_LETTERS:
+        return False
+    return all([letter in LETTERS for letter in thing])
+
+
+def is_values(thing):
+    """Return whether any object is an ascending tuple of one to eight different values."""
+    if not is_tuple_of(thing, 1, MOST_VALUES, is_value):
+        return False
+    return thing == tuple(sorted(thing)) and are_different(thing)
+
+
+def is_type_list(thing):
+    """Return whether any object is, by its form, a list of types with which a function stands."""
+    return is_tuple_of(thing, 1, MOST_HANDED_IN, is_name)
+
+
+def is_name_or_none(thing):
+    """Return whether any object may stand where a schema or a label may be left out."""
+    return thing is None or is_name(thing)

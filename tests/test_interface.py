@@ -1,0 +1,67 @@
+"""The interface of the document: what must be defined, in which file, with which parameters."""
+
+import ast
+import importlib
+import inspect
+import os
+import unittest
+
+FOLDER = os.path.join(os.path.dirname(os.path.dirname(os.path.abspath(__file__))), "boundonce")
+
+FUNCTIONS = {
+    "names": {"is_name": "(thing)", "is_value": "(thing)", "is_values": "(thing)"},
+    "deeds": {"is_deed": "(thing)", "after_deed": "(catalog, deed)", "after_deeds": "(catalog, deeds)"},
+    "statements": {"is_statement": "(thing)", "is_view_statement": "(thing)", "is_path": "(thing)"},
+    "texts": {"write": "(statement)", "read": "(text)"},
+    "finding": {"meant": "(catalog, path, schema, name)", "schemas_ahead": "(catalog, path, name)",
+                "functions_for": "(catalog, path, schema, name, size)"},
+    "calls": {"fits": "(catalog, number, given)", "beats": "(catalog, one, other, given)",
+              "best_function": "(catalog, path, schema, name, given)"},
+}
+CLASSES = {
+    ("catalogs", "Catalog"): {
+        "__init__": "(self, types, casts=())",
+        "__eq__": "(self, other)",
+        "thing_of": "(self, number)",
+        "standing_at": "(self, schema, name)",
+        "function_at": "(self, schema, name, types)",
+        "column_of": "(self, table, name)",
+        "facts_of": "(self, table)",
+        "has_right": "(self, role, number)",
+        "rule_for": "(self, role, number)",
+        "numbered_from": "(self, number)",
+    },
+}
+PROPERTIES = {("catalogs", "Catalog"): ("types", "casts", "next_number", "all_numbers")}
+
+
+def defined_in(module):
+    """Return the names of the functions and classes that a file itself defines."""
+    with open(os.path.join(FOLDER, module + ".py"), encoding="utf-8") as file:
+        tree = ast.parse(file.read())
+    return [node.name for node in tree.body if isinstance(node, (ast.FunctionDef, ast.ClassDef))]
+
+
+class InterfaceTest(unittest.TestCase):
+    def test_functions(self):
+        for module, functions in FUNCTIONS.items():
+            there = importlib.import_module("boundonce." + module)
+            for name, parameters in functions.items():
+                self.assertIn(name, defined_in(module))
+                self.assertEqual(str(inspect.signature(getattr(there, name))), parameters, name)
+
+    def test_classes(self):
+        for (module, name), methods in CLASSES.items():
+            one = getattr(importlib.import_module("boundonce." + module), name)
+            self.assertIn(name, defined_in(module))
+            for method, parameters in methods.items():
+                self.assertEqual(str(inspect.signature(vars(one)[method])), parameters, method)
+            for word in PROPERTIES[module, name]:
+                self.assertIsInstance(vars(one)[word], property, word)
+
+    def test_properties_are_not_set(self):
+        from boundonce.catalogs import Catalog
+        catalog = Catalog(("text",))
+        for word in PROPERTIES["catalogs", "Catalog"]:
+            with self.assertRaises(AttributeError):
+                setattr(catalog, word, 1)
