@@ -80,7 +80,8 @@ class Holding:
     def drop_table(self, table):
         """Drop a table and all that leans on it."""
         # Each fact, reference to a key and rule has a column, with which it goes.
-        for column in self.things[table][3]:
+        columns = self.things[table][3]
+        for column in columns:
             self.drop_column(table, column)
         del self.facts[table]
         self.drop_alone(table)

@@ -30,7 +30,7 @@ def is_view_statement(thing):
     if not is_statement(thing) or thing[0]:
         return False
     for item in thing[1]:
-        if item[0] == "star" or (item[0] == "term" and has_value(item[1])):
+        if item[0] == "star" or has_value(item[1]):
             return False
     return are_different([item[2] for item in thing[1]])
 

@@ -325,6 +325,13 @@ class FactTest(unittest.TestCase):
         self.assertEqual(catalog.facts_of(0), [("key", (1,)), ("ref", (1,), 4, (7,))])
         self.assertEqual(catalog.facts_of(4), [("key", (7,))])
 
+    def test_a_reference_goes_alone(self):
+        deeds = [("table", "own", "w", (("a", "text"),)), ("fact", "own", "u", ("key", ("a",))), ("fact", "main", "t", ("key", ("x",))),
+                 ("fact", "own", "w", ("ref", ("a",), "main", "t", ("x",))), ("fact", "main", "t", ("ref", ("x",), "own", "u", ("a",)))]
+        catalog = self.done(*deeds, ("drop fact", "main", "t", deeds[4][3]))
+        self.assertEqual(catalog, self.done(*deeds[:4]))
+        self.assertEqual([catalog.facts_of(0), catalog.facts_of(10)], [[("key", (1,))], [("ref", (11,), 0, (1,))]])
+
     def test_a_chain_of_references(self):
         chain = [("table", "own", "w", (("a", "text"),)), ("fact", "own", "u", ("key", ("a",))), ("fact", "own", "w", ("key", ("a",))),
                  ("fact", "main", "t", ("ref", ("x",), "own", "u", ("a",))), ("fact", "own", "u", ("ref", ("a",), "own", "w", ("a",)))]

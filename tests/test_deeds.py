@@ -6,7 +6,7 @@ import unittest
 
 from boundonce.catalogs import Catalog
 from boundonce.deeds import after_deed, after_deeds, is_deed
-from boundonce.errors import InvalidDeed, Unknown
+from boundonce.errors import BoundError, InvalidDeed, Unknown
 from tests import oracles, samples
 
 STATEMENT = (False, (("column", (None, "x"), "x"), ("term", ("call", None, "f", (("t", "x"),)), "y")),
@@ -29,12 +29,19 @@ KINDS = {
     "rule": ("rule", "boss", "main", "t", "x", ("a", "select")),
     "drop rule": ("drop rule", "boss", "main", "t"),
 }
+CATALOG = after_deeds(Catalog(("text", "word")), [KINDS["table"], KINDS["view"], KINDS["fact"], KINDS["rule"]])
 REF = ("fact", "main", "t", ("ref", ("x", "x"), "own", "u", ("b", "a")))
 
 
 class FormTest(unittest.TestCase):
     def check(self, thing, expected):
         self.assertIs(is_deed(thing), expected, samples.shown(thing))
+        error = None
+        try:
+            after_deed(CATALOG, thing)
+        except BoundError as caught:
+            error = caught
+        self.assertIs(isinstance(error, InvalidDeed), not expected, samples.shown(thing))
 
     def test_the_sixteen_kinds(self):
         self.assertEqual(len(KINDS), 16)
@@ -112,8 +119,6 @@ class FormTest(unittest.TestCase):
         for thing in things:
             self.check(thing, False)
             with self.assertRaises(InvalidDeed):
-                after_deed(catalog, thing)
-            with self.assertRaises(InvalidDeed):
                 after_deeds(catalog, [thing])
         for thing in things:
             if not isinstance(thing, str):
@@ -124,7 +129,7 @@ class FormTest(unittest.TestCase):
     def test_variants(self):
         for deed in list(KINDS.values()) + [REF]:
             for thing in samples.variants(deed):
-                self.assertIs(is_deed(thing), oracles.deed_fits(thing), thing)
+                self.check(thing, oracles.deed_fits(thing))
 
     def test_deeds_by_a_seed(self):
         source = random.Random(7)

@@ -215,7 +215,8 @@ class TextsTest(unittest.TestCase):
                      "select a from " + "t, " * many + "t", "select a from t where " + "a = b and " * many + "a = b",
                      "select a from t where a in (" + "'a', " * many + "'a')", "select a from t" + " " * many,
                      "select a from t" + "(" * many, "select a from t where a in (" * many, "select a" + ".a" * many,
-                     "select a from t where a in " + "(" * many, "select " + "f(f(f(a, " * many]:
+                     "select a from t where a in " + "(" * many, "select " + "f(f(f(a, " * many, "select " + "f(a, " * many,
+                     "select " + "f('v', " * many + "a" + ")" * many + " as x from t"]:
             self.refuse(text)
 
     def test_by_name(self):
