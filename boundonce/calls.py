@@ -6,20 +6,12 @@ from boundonce.finding import functions_for
 
 def fits(catalog, number, given):
     """Return whether a function fits if things of these types, None for a value, are handed in."""
-    types = types_of(catalog, number)
-    if len(types) != len(given):
-        return False
-    casts = catalog.casts
-    return all(
-        [handed is None or handed == asked or (handed, asked) in casts for handed, asked in zip(given, types)]
-    )
+    return list_fits(catalog, types_of(catalog, number), given)
 
 
 def beats(catalog, one, other, given):
     """Return whether one of two functions that fit beats the other one."""
-    ones = places_cast(catalog, one, given)
-    others = places_cast(catalog, other, given)
-    return all([place in others for place in ones]) and len(ones) < len(others)
+    return list_beats(types_of(catalog, one), types_of(catalog, other), given)
 
 
 def best_function(catalog, path, schema, name, given):
@@ -42,10 +34,27 @@ def beats_all(catalog, number, fitting, given):
     return all([other == number or beats(catalog, number, other, given) for other in fitting])
 
 
-def places_cast(catalog, number, given):
-    """Return the places at which a function that fits casts what is handed in."""
-    types = types_of(catalog, number)
-    return [at for at, handed in enumerate(given) if handed is not None and handed != types[at]]
+def list_fits(catalog, types, given):
+    """Return whether a function with a list of types fits if things of these types are handed in."""
+    if len(types) != len(given):
+        return False
+    for handed, asked in zip(given, types):
+        if handed is not None and handed != asked and (handed, asked) not in catalog.casts:
+            return False
+    return True
+
+
+def list_beats(types, others, given):
+    """Return whether a function with a list of types beats one with another list, if both fit."""
+    fewer = False
+    for handed, asked, other in zip(given, types, others):
+        casts = handed is not None and handed != asked
+        other_casts = handed is not None and handed != other
+        if casts and not other_casts:
+            return False
+        if other_casts and not casts:
+            fewer = True
+    return fewer
 
 
 def types_of(catalog, number):

@@ -104,6 +104,10 @@ class Catalog:
         """Return whether any object is the number of a table."""
         return is_number(thing) and thing in self._holding.facts
 
+    def is_function(self, thing):
+        """Return whether any object is the number of a function."""
+        return is_number(thing) and thing in self._holding.things and self._holding.things[thing][0] == "function"
+
     def copied_holding(self):
         """Return what the catalog holds, to be changed."""
         return self._holding.copied()

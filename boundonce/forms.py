@@ -22,3 +22,22 @@ def is_pair(thing):
 def are_different(things):
     """Return whether strings, or tuples of strings, are all different."""
     return len(set(things)) == len(things)
+
+
+def is_same(thing, wanted):
+    """Return whether a thing is just this one, made of tuples, strings, integers, bools and None."""
+    # In Python True is 1 and False is 0, so == alone would take one for the other.
+    if isinstance(wanted, tuple):
+        if not isinstance(thing, tuple) or len(thing) != len(wanted):
+            return False
+        for part, other in zip(thing, wanted):
+            if not is_same(part, other):
+                return False
+        return True
+    if isinstance(wanted, bool):
+        return isinstance(thing, bool) and thing == wanted
+    if isinstance(wanted, int):
+        return is_number(thing) and thing == wanted
+    if isinstance(wanted, str):
+        return isinstance(thing, str) and thing == wanted
+    return thing is None
