@@ -1,4 +1,7 @@
-"""Which function a call means, by the types of what is handed in."""
+"""Which function a call means, by the types of what is handed in.
+
+The places at which a function casts are told as an integer, one bit a place.
+"""
 
 from boundonce.errors import Ambiguous, Unknown
 from boundonce.finding import functions_for
@@ -6,55 +9,51 @@ from boundonce.finding import functions_for
 
 def fits(catalog, number, given):
     """Return whether a function fits if things of these types, None for a value, are handed in."""
-    return list_fits(catalog, types_of(catalog, number), given)
+    return places_cast(catalog, types_of(catalog, number), given) is not None
 
 
 def beats(catalog, one, other, given):
     """Return whether one of two functions that fit beats the other one."""
-    return list_beats(types_of(catalog, one), types_of(catalog, other), given)
+    ones = places_cast(catalog, types_of(catalog, one), given)
+    others = places_cast(catalog, types_of(catalog, other), given)
+    return are_fewer(ones, others)
 
 
 def best_function(catalog, path, schema, name, given):
     """Return the number of the best function of a call."""
-    fitting = [
-        number
-        for number in functions_for(catalog, path, schema, name, len(given))
-        if fits(catalog, number, given)
-    ]
+    fitting = []
+    for number in functions_for(catalog, path, schema, name, len(given)):
+        places = places_cast(catalog, types_of(catalog, number), given)
+        if places is not None:
+            fitting.append((places, number))
     if not fitting:
         raise Unknown("no function fits the call")
-    for number in fitting:
-        if beats_all(catalog, number, fitting, given):
-            return number
-    raise Ambiguous("none of the functions that fit is the best")
+    # What casts at some of the places at which all others do is the least of these integers.
+    fewest, best = min(fitting)
+    for places, number in fitting:
+        if number != best and not are_fewer(fewest, places):
+            raise Ambiguous("none of the functions that fit is the best")
+    return best
 
 
-def beats_all(catalog, number, fitting, given):
-    """Return whether a function beats all others that fit."""
-    return all([other == number or beats(catalog, number, other, given) for other in fitting])
-
-
-def list_fits(catalog, types, given):
-    """Return whether a function with a list of types fits if things of these types are handed in."""
+def places_cast(catalog, types, given):
+    """Return at which places a function with a list of types casts what is handed in, or None if it does not fit."""
     if len(types) != len(given):
-        return False
+        return None
+    places = 0
+    bit = 1
     for handed, asked in zip(given, types):
-        if handed is not None and handed != asked and (handed, asked) not in catalog.casts:
-            return False
-    return True
+        if handed is not None and handed != asked:
+            if not catalog.is_cast(handed, asked):
+                return None
+            places = places + bit
+        bit = bit + bit
+    return places
 
 
-def list_beats(types, others, given):
-    """Return whether a function with a list of types beats one with another list, if both fit."""
-    fewer = False
-    for handed, asked, other in zip(given, types, others):
-        casts = handed is not None and handed != asked
-        other_casts = handed is not None and handed != other
-        if casts and not other_casts:
-            return False
-        if other_casts and not casts:
-            fewer = True
-    return fewer
+def are_fewer(ones, others):
+    """Return whether some places are all among other ones, and not all of these."""
+    return ones != others and ones & others == ones
 
 
 def types_of(catalog, number):

@@ -9,16 +9,19 @@ MOST_TYPES = 4
 
 
 class Catalog:
-    """A catalog, which is never changed: a deed makes another one."""
+    """A catalog, which is never changed: a deed makes another one.
+
+    What is asked often is looked for in a dict at once: a string that is no
+    name, or an integer that is no number of a thing, is just not found there.
+    """
 
     def __init__(self, types, casts=()):
         if not are_types(types) or not are_casts(casts, types):
             raise InvalidCatalog("a catalog has one to four types, and casts between two of them")
         self._types = tuple(sorted(types))
         self._casts = tuple(sorted(casts))
+        self._casting = {cast: True for cast in self._casts}
         self._holding = Holding()
-        self._places = {}
-        self._functions = {}
 
     @property
     def types(self):
@@ -59,24 +62,32 @@ class Catalog:
 
     def standing_at(self, schema, name):
         """Return the number of the table or view that stands there, or None."""
-        if not is_name(schema) or not is_name(name):
+        if not isinstance(schema, str) or not isinstance(name, str):
             return None
-        return self._places.get((schema, name))
+        return self._holding.places.get((schema, name))
 
     def function_at(self, schema, name, types):
         """Return the number of the function that stands there, or None."""
-        if not is_name(schema) or not is_name(name) or not is_type_list(types):
+        if not isinstance(schema, str) or not isinstance(name, str):
             return None
-        return self._functions.get((schema, name, types))
+        named = self._holding.functions.get((schema, name))
+        if not named or not is_type_list(types):
+            return None
+        return named.get(types)
+
+    def functions_named(self, schema, name):
+        """Return a list of pairs (types, number) of the functions that stand in a schema under a name."""
+        return list(self._holding.functions.get((schema, name), {}).items())
 
     def column_of(self, table, name):
         """Return the number of a column of a table, or None."""
-        if not self.is_table(table):
+        if not self.is_table(table) or not isinstance(name, str):
             return None
-        for number in self._holding.things[table][3]:
-            if self._holding.things[number][2] == name:
-                return number
-        return None
+        return self._holding.columns[table].get(name)
+
+    def columns_of(self, table):
+        """Return a list of pairs (name, number) of the columns of a table, in order."""
+        return list(self._holding.columns[table].items())
 
     def facts_of(self, table):
         """Return the declared facts of a table, ascending."""
@@ -86,11 +97,11 @@ class Catalog:
 
     def has_right(self, role, number):
         """Return whether a role has the right on a table or view."""
-        return is_name(role) and is_number(number) and (role, number) in self._holding.rights
+        return isinstance(role, str) and is_number(number) and (role, number) in self._holding.rights
 
     def rule_for(self, role, number):
         """Return the rule of a role for a table, or None."""
-        if not is_name(role) or not is_number(number):
+        if not isinstance(role, str) or not is_number(number):
             return None
         return self._holding.rules.get((role, number))
 
@@ -108,6 +119,10 @@ class Catalog:
         """Return whether any object is the number of a function."""
         return is_number(thing) and thing in self._holding.things and self._holding.things[thing][0] == "function"
 
+    def is_cast(self, one, other):
+        """Return whether a thing of a type may be handed in, by a cast, where another type is asked for."""
+        return (one, other) in self._casting
+
     def copied_holding(self):
         """Return what the catalog holds, to be changed."""
         return self._holding.copied()
@@ -116,12 +131,6 @@ class Catalog:
         """Return the catalog that holds this, which is not changed from then on."""
         catalog = Catalog(self._types, self._casts)
         catalog._holding = holding
-        for number in holding.things:
-            word, schema, name, *rest = holding.things[number]
-            if word == "function":
-                catalog._functions[(schema, name, rest[0])] = number
-            elif word != "column":
-                catalog._places[(schema, name)] = number
         return catalog
 
 

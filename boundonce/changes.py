@@ -77,7 +77,7 @@ def make_view(catalog, holding, parts):
     """Do ("view", schema, name, statement, path)."""
     schema, name, statement, path = parts
     need_free(catalog, schema, name)
-    holding.add_thing(("view", schema, name, statement, path))
+    holding.add_view(("view", schema, name, statement, path))
 
 
 def make_function(catalog, holding, parts):
@@ -85,23 +85,19 @@ def make_function(catalog, holding, parts):
     schema, name, types, result = parts
     need_types(catalog, types + (result,))
     need_free_function(catalog, schema, name, types)
-    holding.add_thing(("function", schema, name, types, result))
+    holding.add_function(("function", schema, name, types, result))
 
 
 def drop_standing(catalog, holding, parts):
     """Do ("drop", schema, name)."""
     schema, name = parts
-    number = number_at(catalog, schema, name)
-    if catalog.is_table(number):
-        holding.drop_table(number)
-    else:
-        holding.drop_alone(number)
+    holding.drop_standing(number_at(catalog, schema, name))
 
 
 def drop_function(catalog, holding, parts):
     """Do ("drop function", schema, name, types)."""
     schema, name, types = parts
-    holding.drop_alone(function_at(catalog, schema, name, types))
+    holding.drop_function(function_at(catalog, schema, name, types))
 
 
 def rename_standing(catalog, holding, parts):
@@ -109,7 +105,7 @@ def rename_standing(catalog, holding, parts):
     schema, name, other = parts
     number = number_at(catalog, schema, name)
     need_free(catalog, schema, other)
-    holding.rename(number, other)
+    holding.rename_standing(number, other)
 
 
 def rename_function(catalog, holding, parts):
@@ -117,7 +113,7 @@ def rename_function(catalog, holding, parts):
     schema, name, types, other = parts
     number = function_at(catalog, schema, name, types)
     need_free_function(catalog, schema, other, types)
-    holding.rename(number, other)
+    holding.rename_function(number, other)
 
 
 def rename_column(catalog, holding, parts):
@@ -126,7 +122,7 @@ def rename_column(catalog, holding, parts):
     table = table_at(catalog, schema, name)
     number = column_at(catalog, table, column)
     need_free_column(catalog, table, other)
-    holding.rename(number, other)
+    holding.rename_column(number, other)
 
 
 def add_column(catalog, holding, parts):
@@ -218,7 +214,7 @@ def grant(catalog, holding, parts):
     number = number_at(catalog, schema, name)
     if catalog.has_right(role, number):
         raise Taken("the role has the right already")
-    holding.rights[(role, number)] = True
+    holding.grant(role, number)
 
 
 def revoke(catalog, holding, parts):
@@ -227,14 +223,14 @@ def revoke(catalog, holding, parts):
     number = number_at(catalog, schema, name)
     if not catalog.has_right(role, number):
         raise Unknown("the role does not have the right")
-    del holding.rights[(role, number)]
+    holding.revoke(role, number)
 
 
 def set_rule(catalog, holding, parts):
     """Do ("rule", role, schema, name, column, values)."""
     role, schema, name, column, values = parts
     table = table_at(catalog, schema, name)
-    holding.rules[(role, table)] = (column_at(catalog, table, column), values)
+    holding.set_rule(role, table, (column_at(catalog, table, column), values))
 
 
 def drop_rule(catalog, holding, parts):
@@ -243,7 +239,7 @@ def drop_rule(catalog, holding, parts):
     table = table_at(catalog, schema, name)
     if catalog.rule_for(role, table) is None:
         raise Unknown("the role has no rule for the table")
-    del holding.rules[(role, table)]
+    holding.drop_rule(role, table)
 
 
 CHANGES = {

@@ -24,21 +24,12 @@ def schemas_ahead(catalog, path, name):
 def functions_for(catalog, path, schema, name, size):
     """Return the numbers of the functions of a call with so many terms, ascending."""
     schemas = path if schema is None else (schema,)
-    found = []
-    for types in type_lists(catalog, size):
-        number = first_function(catalog, schemas, name, types)
-        if number is not None:
-            found.append(number)
-    return sorted(found)
-
-
-def first_function(catalog, schemas, name, types):
-    """Return the number of the first function of a name and a list in these schemas, or None."""
-    for schema in schemas:
-        number = catalog.function_at(schema, name, types)
-        if number is not None:
-            return number
-    return None
+    first = {}
+    for at in schemas:
+        for types, number in catalog.functions_named(at, name):
+            if len(types) == size:
+                first.setdefault(types, number)
+    return sorted(first.values())
 
 
 def type_lists(catalog, size):

@@ -16,9 +16,10 @@ def is_name(thing):
 
 def is_value(thing):
     """Return whether any object is a value."""
-    if not isinstance(thing, str) or not 1 <= len(thing) <= MOST_LETTERS:
+    # The length is looked at first: a string may be very long.
+    if not isinstance(thing, str) or len(thing) > MOST_LETTERS:
         return False
-    return all([letter in LETTERS for letter in thing])
+    return thing.isascii() and thing.isalpha() and thing.islower()
 
 
 def is_values(thing):

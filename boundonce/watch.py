@@ -1,7 +1,7 @@
 """The watch of a statement: on which entries its binding stands."""
 
 from boundonce.bindings import binding_of
-from boundonce.calls import list_beats, list_fits
+from boundonce.calls import are_fewer, places_cast
 from boundonce.entryforms import has_entry_form
 from boundonce.finding import schemas_ahead, type_lists
 
@@ -57,7 +57,7 @@ class Watcher:
         word, number, rest = binding[2][at]
         if word == "view":
             return len(rest[1])
-        pairs = named_columns(self.catalog, number)
+        pairs = tuple(self.catalog.columns_of(number))
         self.note(("columns", number, pairs))
         return len(pairs)
 
@@ -88,8 +88,10 @@ class Watcher:
                 self.note(("unmade", ahead, name, types))
         schemas = path if schema is None else (schema,)
         given = [self.type_of(term, binding) for term in bound[2]]
+        places = places_cast(self.catalog, types, given)
         for other in type_lists(self.catalog, len(types)):
-            if other != types and list_fits(self.catalog, other, given) and not list_beats(types, other, given):
+            others = places_cast(self.catalog, other, given)
+            if other != types and others is not None and not are_fewer(places, others):
                 for at in schemas:
                     self.note(("unmade", at, name, other))
 
@@ -155,7 +157,7 @@ def is_bare(catalog, parts):
 def has_columns(catalog, parts):
     """Return whether ("columns", table, pairs) holds."""
     table, pairs = parts
-    return catalog.is_table(table) and named_columns(catalog, table) == pairs
+    return catalog.is_table(table) and tuple(catalog.columns_of(table)) == pairs
 
 
 def has_function(catalog, parts):
@@ -180,11 +182,6 @@ def has_rule(catalog, parts):
     """Return whether ("rule", role, table, rule) holds: not so if there is no such table."""
     role, table, rule = parts
     return catalog.is_table(table) and catalog.rule_for(role, table) == rule
-
-
-def named_columns(catalog, table):
-    """Return the pairs (name, number) of the columns of a table, in order."""
-    return tuple([(catalog.thing_of(number)[2], number) for number in catalog.thing_of(table)[3]])
 
 
 TESTS = {

@@ -48,6 +48,37 @@ def both(catalog, other, deed):
     return catalog, words
 
 
+LISTS = [(one,) for one in TYPES] + [(one, two) for one in TYPES for two in TYPES]
+
+
+def told_of_names(catalog):
+    """Return what is told of all names: standing_at, function_at and column_of."""
+    names = samples.TABLES + samples.COLUMNS
+    standing = [catalog.standing_at(schema, name) for schema in samples.SCHEMAS for name in names]
+    functions = [catalog.function_at(schema, name, types) for schema in samples.SCHEMAS for name in names for types in LISTS]
+    columns = [catalog.column_of(number, name) for number in range(catalog.next_number) for name in names]
+    return standing, functions, columns
+
+
+def looked_up(catalog):
+    """Return the same by what the things tell."""
+    places, functions, columns = {}, {}, {}
+    for number in catalog.all_numbers:
+        thing = catalog.thing_of(number)
+        if thing[0] == "function":
+            functions[thing[1:4]] = number
+        elif thing[0] == "column":
+            columns[thing[1:3]] = number
+        else:
+            places[thing[1:3]] = number
+    names = samples.TABLES + samples.COLUMNS
+    return (
+        [places.get((schema, name)) for schema in samples.SCHEMAS for name in names],
+        [functions.get((schema, name, types)) for schema in samples.SCHEMAS for name in names for types in LISTS],
+        [columns.get((number, name)) for number in range(catalog.next_number) for name in names],
+    )
+
+
 class HistoryTest(unittest.TestCase):
     def test_catalogs_and_models_agree(self):
         counts = {}
@@ -83,6 +114,21 @@ class HistoryTest(unittest.TestCase):
                 for name in samples.TABLES:
                     number = catalog.standing_at(schema, name)
                     self.assertTrue(number is None or things[number][1:3] == (schema, name))
+
+    def test_all_names_are_found_and_no_others_in_elder_catalogs_too(self):
+        for seed in range(10):
+            source = random.Random(seed)
+            catalog = Catalog(TYPES)
+            kept = [catalog]
+            for _ in range(100):
+                catalog, _ = both(catalog, model.Model(TYPES), samples.make_deed(source))
+                self.assertEqual(told_of_names(catalog), looked_up(catalog))
+                kept.append(catalog)
+            # A deed may be done to an elder catalog, too, and changes none of the later ones.
+            for elder in kept[::10]:
+                both(elder, model.Model(TYPES), samples.make_deed(source))
+            for elder in kept:
+                self.assertEqual(told_of_names(elder), looked_up(elder))
 
     def test_no_number_is_given_twice_and_elder_catalogs_stay(self):
         source = random.Random(5)
