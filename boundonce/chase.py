@@ -109,7 +109,8 @@ class Tableau:
         if number is None:
             return None
         found = []
-        for value in self.classes.lists[number]:
+        values = self.classes.lists[number]
+        for value in values:
             other = self.copied()
             other.classes.narrow(number, (value,))
             found.append(other)

@@ -4,20 +4,20 @@
 class TermMap:
     """What classes stand for in a case, as far as it is known; those below say which classes may."""
 
-    def leads(self, term, other):
+    def maps(self, term, other):
         """Return whether a term leads to one of the case; what was open about it is known from then on."""
         if isinstance(term, tuple):
-            return isinstance(other, tuple) and term[1] == other[1] and self.leads_all(term[2], other[2])
+            return isinstance(other, tuple) and term[1] == other[1] and self.maps_all(term[2], other[2])
         if isinstance(term, str) or isinstance(other, tuple):
             return term == other
-        return self.leads_class(term, other)
+        return self.maps_class(term, other)
 
-    def leads_all(self, terms, others):
+    def maps_all(self, terms, others):
         """Return whether terms lead to those of the case, one for one."""
         if len(terms) != len(others):
             return False
         for term, other in zip(terms, others):
-            if not self.leads(term, other):
+            if not self.maps(term, other):
                 return False
         return True
 
@@ -36,7 +36,7 @@ class CaseMap(TermMap):
         other.back = dict(self.back)
         return other
 
-    def leads_class(self, number, other):
+    def maps_class(self, number, other):
         """Return whether a class leads to a class, and no other one does."""
         if isinstance(other, str):
             return False
@@ -56,7 +56,7 @@ class PlanMap(TermMap):
         other.forth = dict(self.forth)
         return other
 
-    def leads_class(self, number, other):
+    def maps_class(self, number, other):
         """Return whether a class stands for a class or value."""
         values = self.lists[number]
         if values is not None and other not in values:
@@ -82,7 +82,7 @@ class RowSearch:
             if other != table or (self.once and index in self.found):
                 continue
             tried = known.copied()
-            if tried.leads_all(terms, [parts[place] for place in places]):
+            if tried.maps_all(terms, [parts[place] for place in places]):
                 self.found.append(index)
                 if self.succeeds(tried):
                     return True
@@ -93,7 +93,7 @@ class RowSearch:
 def rows_between(one, two):
     """Return the list of the rows of a case to which those of another one lead, one for one, or None."""
     known = CaseMap()
-    if len(one[1]) != len(two[1]) or not known.leads_all(one[0], two[0]):
+    if len(one[1]) != len(two[1]) or not known.maps_all(one[0], two[0]):
         return None
     rows = [(table, list(range(len(terms))), terms) for table, terms in one[1]]
     search = RowSearch(rows, two[1], True)
@@ -103,7 +103,7 @@ def rows_between(one, two):
 def rows_into(shapes, plan, case):
     """Return the list of the rows of a case for which those of a plan stand when it leads into it, or None."""
     known = PlanMap(plan[3])
-    if not known.leads_all(plan[1], case[0]):
+    if not known.maps_all(plan[1], case[0]):
         return None
     rows = []
     for table, columns in plan[2]:

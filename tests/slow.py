@@ -200,6 +200,14 @@ def answers(catalog, plan, data, flat=False):
     return {row: 1 for row in found} if distinct else counted(found)
 
 
+def work(plan, data):
+    """Return how many choices of rows there are for a plan."""
+    found = 1
+    for table, _ in plan[2]:
+        found *= len(data[table])
+    return found
+
+
 def case_answers(catalog, cases, data, flat=False):
     """Return the answers of several cases together."""
     found = {}
@@ -239,3 +247,116 @@ def frozen(catalog, rows, worth):
         if row not in data[table]:
             data[table].append(row)
     return data
+
+
+def is_plan(catalog, thing):
+    """Return whether a thing is a plan of a catalog, looked at one requirement after another."""
+    try:
+        return plan_fits(catalog, thing)
+    except (TypeError, ValueError, KeyError, IndexError):
+        return False
+
+
+def plan_fits(catalog, thing):
+    things = {number: catalog.thing_of(number) for number in catalog.all_numbers}
+    distinct, told, rows, lists = thing
+    if [type(part) for part in (thing, distinct, told, rows, lists)] != [tuple, bool, tuple, tuple, tuple]:
+        return False
+    order, places = [], {}
+
+    def term(one, calls):
+        if type(one) is tuple:
+            word, number, terms = one
+            return (calls and word == "call" and type(number) is int and things[number][0] == "function"
+                    and type(terms) is tuple and len(terms) == len(things[number][3]) and all([term(part, True) for part in terms]))
+        if type(one) is int:
+            order.append(one)
+            return 0 <= one < len(lists)
+        return type(one) is str and 1 <= len(one) <= 8 and all("a" <= letter <= "z" for letter in one)
+
+    if not told or not all([term(one, True) for one in told]) or not 1 <= len(rows) <= 4:
+        return False
+    spoken = set(order)
+    for row in rows:
+        table, columns = row
+        if [type(part) for part in (row, table, columns)] != [tuple, int, tuple] or things[table][0] != "table":
+            return False
+        last = -1
+        for pair in columns:
+            column, one = pair
+            if type(pair) is not tuple or type(column) is not int or column <= last or column not in things[table][3] or not term(one, False):
+                return False
+            last = column
+            places.setdefault(one, []).append(things[column][3])
+    for number, values in enumerate(lists):
+        if values is not None:
+            ordered = type(values) is tuple and all(type(value) is str and value.isalpha() and value.islower() for value in values)
+            if not ordered or list(values) != sorted(set(values)) or len(values) not in (0, 2, 3, 4, 5, 6, 7, 8) or max(map(len, values), default=1) > 8:
+                return False
+        if len(set(places[number])) != 1 or not (number in spoken or values is not None or len(places[number]) > 1):
+            return False
+    return list(dict.fromkeys(order)) == list(range(len(lists)))
+
+
+def renumbered(plan):
+    """Return a plan with its classes numbered as they occur in what is told, then in rows."""
+    distinct, told, rows, lists = plan
+    order = {}
+
+    def named(term):
+        if isinstance(term, tuple):
+            return ("call", term[1], tuple([named(part) for part in term[2]]))
+        return term if isinstance(term, str) else order.setdefault(term, len(order))
+
+    told = tuple([named(term) for term in told])
+    rows = tuple([(table, tuple([(column, named(term)) for column, term in columns])) for table, columns in rows])
+    return distinct, told, rows, tuple([lists[number] for number in order])
+
+
+def doubled(plan):
+    """Return the plan, not distinct, with each row twice and what is told outside of calls equal; it tells both."""
+    distinct, told, rows, lists = plan
+    shared = [term for term in told if isinstance(term, int)]
+
+    def twin(term):
+        if isinstance(term, tuple):
+            return ("call", term[1], tuple([twin(part) for part in term[2]]))
+        return term if isinstance(term, str) or term in shared else term + len(lists)
+
+    twins = tuple([(table, tuple([(column, twin(term)) for column, term in columns])) for table, columns in rows])
+    both = (False, told + tuple([twin(term) for term in told]), rows + twins, lists + lists)
+    return renumbered(both)
+
+
+def images(catalog, case, most):
+    """Return up to so many data that are images of the rows of a case: each class stands for any value."""
+    classes = sorted({term for _, terms in case[1] for term in terms if isinstance(term, int)})
+    found = []
+
+    def go(at, worth, fresh):
+        if len(found) >= most:
+            return
+        if at == len(classes):
+            found.append(frozen(catalog, case[1], worth))
+            return
+        # A value of its own first, so that the image that is most like the case comes first.
+        names = ["q" + chr(97 + number // 26) + chr(97 + number % 26) for number in range(fresh + 1)]
+        for value in names[::-1] + ["a", "b", "c"]:
+            go(at + 1, {**worth, classes[at]: value}, fresh + (value == names[-1]))
+
+    go(0, {}, 0)
+    return found
+
+
+def doubled_rows(data, keyed):
+    """Return data in which the rows of tables without a key stand twice."""
+    return {table: data[table] * (1 if table in keyed else 2) for table in data}
+
+
+def parting(catalog, one, two, datas):
+    """Return the first of several data on which two plans have different answers in one of the meanings, or None."""
+    for data in datas:
+        for flat in (False, True):
+            if answers(catalog, one, data, flat) != answers(catalog, two, data, flat):
+                return data
+    return None

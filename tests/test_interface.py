@@ -17,6 +17,17 @@ FUNCTIONS = {
                 "functions_for": "(catalog, path, schema, name, size)"},
     "calls": {"fits": "(catalog, number, given)", "beats": "(catalog, one, other, given)",
               "best_function": "(catalog, path, schema, name, given)"},
+    "bindings": {"binding_of": "(catalog, statement, path, role)", "is_binding": "(catalog, statement, path, role, thing)",
+                 "refusal": "(catalog, statement, path, role)"},
+    "plans": {"plan_of": "(catalog, binding)", "is_plan": "(catalog, thing)"},
+    "watch": {"watch_of": "(catalog, statement, path, role)", "is_entry": "(thing)", "holds": "(catalog, entry)"},
+    "entries": {"breaking_deed": "(catalog, statement, path, role, entry)", "is_enough": "(catalog, statement, path, role, entries)",
+                "parting_deed": "(catalog, statement, path, role, entries)", "is_parting": "(catalog, statement, path, role, entries, thing)"},
+    "ways": {"mattering": "(catalog, statement)", "path_classes": "(catalog, statement, role)"},
+    "cases": {"cases_of": "(catalog, plan, by=None)"},
+    "likeness": {"tells_once": "(catalog, plan, by=None)", "alike": "(catalog, one, two, by=None)"},
+    "leaning": {"parts_of": "(plan)", "without_part": "(plan, part)", "needless_parts": "(catalog, plan, by=None)",
+                "lean_plan": "(catalog, plan)"},
 }
 CLASSES = {
     ("catalogs", "Catalog"): {

@@ -1,8 +1,12 @@
 """Catalogs, statements, plans and data made by a seed: small ones, in which much hangs together."""
 
+from boundonce.bindings import binding_of
 from boundonce.catalogs import Catalog
 from boundonce.deeds import after_deed
 from boundonce.errors import BoundError
+from boundonce.leaning import parts_of, without_part
+from boundonce.plans import plan_of
+from tests.slow import keeps
 
 SCHEMAS, NAMES, CALLS, ROLES = ["main", "own", "old"], ["t", "u", "v"], ["f", "g"], ["boss", "kim"]
 COLUMNS, MORE_COLUMNS = ["x", "y", "z"], ["x", "y", "z", "k", "l", "m"]
@@ -129,6 +133,15 @@ def make_fitting_statement(source, catalog, plain=False):
     return (not plain and source.random() < 0.3, tuple(told), tuple(sources), tuple(conditions))
 
 
+def make_any(source, catalog):
+    """Return any statement, fitting more often than not, with a path and a role."""
+    if source.random() < 0.2 or not tables_of(catalog):
+        statement = make_statement(source)
+    else:
+        statement = make_fitting_statement(source, catalog)
+    return statement, make_path(source), source.choice(ROLES)
+
+
 def make_fact(source):
     """Return any fact with names."""
     kind = source.choice(["key", "key", "in", "ref", "ref", "ref"])
@@ -245,13 +258,12 @@ def closed_facts(source, catalog):
 
 def make_plan(source, catalog, rows=3):
     """Return any plan of a catalog with tables and facts alone, by its binding."""
-    from boundonce.binder import bound_or_none
-    from boundonce.plans import plan_of
+    catalog = open_to(catalog, "boss")
     while True:
-        statement = make_plan_statement(source, rows)
-        binding = bound_or_none(open_to(catalog, "boss"), statement, ("main",), "boss")
-        if binding is not None:
-            return plan_of(catalog, binding)
+        try:
+            return plan_of(catalog, binding_of(catalog, make_plan_statement(source, rows), ("main",), "boss"))
+        except BoundError:
+            pass
 
 
 def open_to(catalog, role):
@@ -288,7 +300,6 @@ def make_plan_statement(source, rows):
 
 def make_data(source, catalog, facts, rows=3, tries=200):
     """Return any data that keep facts, with few rows; None if none are found."""
-    from tests.slow import keeps
     for _ in range(tries):
         data = {}
         for table in tables_of(catalog):
@@ -297,3 +308,16 @@ def make_data(source, catalog, facts, rows=3, tries=200):
         if keeps(catalog, data, facts):
             return data
     return None
+
+
+def make_pair(source, catalog):
+    """Return two plans, often of the same statement, perhaps with less in the second one."""
+    one = make_plan(source, catalog)
+    two = make_plan(source, catalog) if source.random() < 0.3 else one
+    if source.random() < 0.4:
+        two = (not two[0],) + two[1:]
+    for _ in range(source.choice([0, 1, 2])):
+        parts = parts_of(two)
+        if parts:
+            two = without_part(two, source.choice(parts))
+    return one, two
