@@ -14,11 +14,10 @@ class Classes:
         self.failed = False
 
     def copied(self):
-        """Return the same once more."""
+        """Return the same once more, of classes that have not failed."""
         other = Classes()
         other.leads = list(self.leads)
         other.lists = list(self.lists)
-        other.failed = self.failed
         return other
 
     def new_class(self, values=None):

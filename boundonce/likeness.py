@@ -81,7 +81,7 @@ def are_same_cases(ones, twos):
 def first_same(case, others):
     """Return the index of the first case that is the same as another one, or None."""
     for at, other in enumerate(others):
-        if rows_between(case, other) is not None:
+        if case == other or rows_between(case, other) is not None:
             return at
     return None
 

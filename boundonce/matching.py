@@ -65,29 +65,53 @@ class PlanMap(TermMap):
 
 
 class RowSearch:
-    """A search for rows of a case to which others lead: tuples (table, places, terms), with what is known there."""
+    """A search for rows of a case to which others lead: tuples (table, places, terms), with what is known there.
+
+    Rows with few choices come first, so that what leads nowhere is seen soon.
+    """
 
     def __init__(self, rows, others, once):
         self.rows = rows
         self.others = others
         self.once = once
-        self.found = []
+        self.taken = []
+        self.choices = [choices_for(row, others) for row in rows]
+        self.order = sorted(range(len(rows)), key=lambda at: len(self.choices[at]))
 
     def succeeds(self, known):
-        """Return whether all rows from the next one on lead to rows; found then has the indexes of these."""
-        if len(self.found) == len(self.rows):
+        """Return whether all rows that are left lead to rows; taken then has the indexes of these by the order."""
+        if len(self.taken) == len(self.rows):
             return True
-        table, places, terms = self.rows[len(self.found)]
-        for index, (other, parts) in enumerate(self.others):
-            if other != table or (self.once and index in self.found):
+        at = self.order[len(self.taken)]
+        _, places, terms = self.rows[at]
+        for index in self.choices[at]:
+            if self.once and index in self.taken:
                 continue
             tried = known.copied()
-            if tried.maps_all(terms, [parts[place] for place in places]):
-                self.found.append(index)
+            if tried.maps_all(terms, [self.others[index][1][place] for place in places]):
+                self.taken.append(index)
                 if self.succeeds(tried):
                     return True
-                self.found.pop()
+                self.taken.pop()
         return False
+
+    def result(self, known):
+        """Return the list of the rows of the case to which the rows lead, in their order, or None."""
+        if not self.succeeds(known):
+            return None
+        found = dict(zip(self.order, self.taken))
+        return [found[at] for at in range(len(self.rows))]
+
+
+def choices_for(row, others):
+    """Return the list of the indexes of rows of a table in which all values of a row stand."""
+    table, places, terms = row
+    values = [(place, term) for place, term in zip(places, terms) if isinstance(term, str)]
+    found = []
+    for index, (other, parts) in enumerate(others):
+        if other == table and all([parts[place] == value for place, value in values]):
+            found.append(index)
+    return found
 
 
 def rows_between(one, two):
@@ -96,8 +120,7 @@ def rows_between(one, two):
     if len(one[1]) != len(two[1]) or not known.maps_all(one[0], two[0]):
         return None
     rows = [(table, list(range(len(terms))), terms) for table, terms in one[1]]
-    search = RowSearch(rows, two[1], True)
-    return search.found if search.succeeds(known) else None
+    return RowSearch(rows, two[1], True).result(known)
 
 
 def rows_into(shapes, plan, case):
@@ -109,5 +132,4 @@ def rows_into(shapes, plan, case):
     for table, columns in plan[2]:
         places = shapes.shape_of(table).places
         rows.append((table, [places[column] for column, _ in columns], [term for _, term in columns]))
-    search = RowSearch(rows, case[1], False)
-    return search.found if search.succeeds(known) else None
+    return RowSearch(rows, case[1], False).result(known)

@@ -485,7 +485,8 @@ def iterated_at_once(file, node):
         if parent.func.id == "reversed":
             return isinstance(node.func, ast.Name) and node.func.id == "range"
         return parent.func.id in AT_ONCE and (parent.args[0] is node or parent.func.id == "zip")
-    return isinstance(parent, ast.Compare) and isinstance(parent.ops[0], (ast.In, ast.NotIn))
+    word = node.func.id if isinstance(node.func, ast.Name) else node.func.attr
+    return isinstance(parent, ast.Compare) and isinstance(parent.ops[0], (ast.In, ast.NotIn)) and word in ("range", "keys")
 
 
 def set_faults(file, package):

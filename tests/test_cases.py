@@ -13,8 +13,8 @@ X8 = tuple("abcdefgh")
 
 
 def with_facts(*facts):
-    """Return a catalog with t (0: x 1, y 2, z 3), u (4: x 5, y 6, z 7) and v (8: x 9), and facts (name, fact)."""
-    return catalog_of(*table("main.t", "x, y, z"), *table("main.u", "x, y, z"), *table("main.v", "x"), *function("main.f", "text"),
+    """Return a catalog with t (0: x 1, y 2, z 3), u (4: x 5, y 6, z 7) and v (8: x 9), functions f (10) and g (11), and facts (name, fact)."""
+    return catalog_of(*table("main.t", "x, y, z"), *table("main.u", "x, y, z"), *table("main.v", "x"), *function("main.f", "text"), *function("main.g", "text"),
                       *[("fact", "main", name, fact) for name, fact in facts])
 
 

@@ -6,6 +6,7 @@ import random
 import unittest
 
 from boundonce.bindings import binding_of
+from boundonce.catalogs import Catalog
 from boundonce.deeds import after_deed, after_deeds, is_deed
 from boundonce.entries import breaking_deed, is_enough, is_parting, parting_deed
 from boundonce.errors import BoundError
@@ -85,6 +86,11 @@ class BreakingTest(EntriesCase):
             known = repr(thing) in [repr(entry) for entry in watch]
             self.assertEqual(raised(breaking_deed, *arguments, thing), None if known else "InvalidEntry", thing)
 
+    def test_a_catalog_of_one_type(self):
+        catalog = after_deeds(Catalog(("text",)), [*table("main.t", "x", "boss"), *table("main.u", "y", "boss"), *function("main.f", "text")])
+        self.check_breaking((catalog, read("select f(x) as k, t.* from t, u where y = x"), PATH, ROLE))
+        self.check_breaking((catalog, read("select f(x) as k, y from t, u"), PATH, ROLE))
+
     def test_worlds(self):
         seen = {}
         for arguments in worlds_arguments(100, 6):
@@ -139,8 +145,12 @@ class EnoughTest(EntriesCase):
         self.check_list(self.arguments, further, False)
         near = [("free", schema, letter) for schema in ("own", "main") for letter in "abcdefghijklmn"]
         near += [("bare", 0, letter) for letter in "abcdefghijlmn"] + [("unmade", "main", letter, ("text",)) for letter in "abcdeghijklmn"]
-        for entry in self.watch:
-            self.check_list(self.arguments, near + [other for other in self.watch if other != entry], False)
+        # The words that come next are "as" and "in", which are no names.
+        words = [one + other for one in "abcdefghi" for other in "abcdefghijklmnopqrstuvwxyz"]
+        far = [("free", "old", word) for word in list("opqrstuvwxyz") + words if word not in ("as", "in")]
+        for more in ([], far[:far.index(("free", "old", "ar")) + 1], far[:far.index(("free", "old", "im")) + 1]):
+            for entry in self.watch:
+                self.check_list(self.arguments, near + more + [other for other in self.watch if other != entry], False)
 
     def test_lists_that_are_not_of_entries_that_hold(self):
         calls = [is_enough, parting_deed, lambda *arguments: is_parting(*arguments, ("drop", "main", "t"))]

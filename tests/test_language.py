@@ -58,6 +58,7 @@ WRONG = [
     ("L22", "def f(x):\n    return int(x, base=2)\n"),
     ("L23", "def f(x, y):\n    z = zip(x, y)\n    return z\n"),
     ("L23", "def f(x):\n    return x.items()\n"),
+    ("L23", "def f(x):\n    return 1 in x.values()\n"),
     ("L23", "def f(x):\n    for y in x:\n        x.append(y)\n"),
     ("L23", "def f(x):\n    for y in x:\n        x[y] = 1\n"),
     ("L24", "def f(x):\n    return set(x)\n"),

@@ -121,7 +121,7 @@ class AlikeTest(unittest.TestCase):
 
     def test_calls(self):
         catalog = with_facts()
-        terms = [("call", 10, (0,)), ("call", 10, (1,)), ("call", 10, (("call", 10, (0,)),)), ("call", 10, ("a",)), 0, "a"]
+        terms = [("call", 10, (0,)), ("call", 10, (1,)), ("call", 10, (("call", 10, (0,)),)), ("call", 10, ("a",)), ("call", 11, (0,)), 0, "a"]
         for one, two in itertools.combinations_with_replacement(terms, 2):
             plans = [slow.renumbered(plain((term, 0, 1), (T, ((1, 0), (2, 1))), lists=NONE2)) for term in (one, two)]
             self.check(catalog, *plans, one == two)
@@ -188,6 +188,15 @@ class AlikeTest(unittest.TestCase):
         self.check(catalog, plain(("c",), (V, ((9, "a"),)), (V, ((9, "b"),))), one, False)
         self.check(catalog, distinct(one), distinct(two), True)
         self.check(catalog, distinct(one), distinct(plain(("c",), (V, ((9, 0),)), lists=(("a", "b"),))), True)
+
+    def test_classes_lead_one_for_one(self):
+        # A ring of four and two rings of two have the same rows and classes as often.
+        ring = plain(("a",), *[(T, ((1, at), (2, (at + 1) % 4))) for at in range(4)], lists=(None,) * 4)
+        rings = plain(("a",), (T, ((1, 0), (2, 1))), (T, ((1, 1), (2, 0))), (T, ((1, 2), (2, 3))), (T, ((1, 3), (2, 2))), lists=(None,) * 4)
+        self.check(with_facts(), slow.renumbered(ring), slow.renumbered(rings), False)
+        self.check(with_facts(), distinct(slow.renumbered(ring)), distinct(slow.renumbered(rings)), False)
+        turned = plain(("a",), *[(T, ((1, at), (2, (at + 3) % 4))) for at in (2, 0, 3, 1)], lists=(None,) * 4)
+        self.check(with_facts(), slow.renumbered(ring), slow.renumbered(turned), True)
 
     def test_ways_into_cases(self):
         # A path of three goes into a ring of one; told classes may not move.
