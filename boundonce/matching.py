@@ -76,7 +76,7 @@ class RowSearch:
         self.once = once
         self.taken = []
         self.choices = [choices_for(row, others) for row in rows]
-        self.order = sorted(range(len(rows)), key=lambda at: len(self.choices[at]))
+        self.order = fewest_first(self.choices)
 
     def succeeds(self, known):
         """Return whether all rows that are left lead to rows; taken then has the indexes of these by the order."""
@@ -112,6 +112,11 @@ def choices_for(row, others):
         if other == table and all([parts[place] == value for place, value in values]):
             found.append(index)
     return found
+
+
+def fewest_first(choices):
+    """Return the list of the indexes of lists, those of the shortest lists first."""
+    return sorted(range(len(choices)), key=lambda at: len(choices[at]))
 
 
 def rows_between(one, two):

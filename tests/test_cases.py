@@ -138,8 +138,10 @@ class KeysTest(CasesCase):
 
     def test_one_key_leads_to_another_one(self):
         catalog = with_facts(("t", key("x")), ("u", key("y")), ("v", key("x")))
-        one = plan((3,), (0, ((1, 0), (2, 1))), (0, ((1, 0), (2, 2))), (4, ((6, 1), (7, 3))), (4, ((6, 2), (7, 4))), lists=(None,) * 5)
-        self.check(catalog, one, [((0,), ((0, (1, 2, 3)), (4, (4, 2, 0))))])
+        rows = [(0, ((1, 0), (2, 1))), (0, ((1, 0), (2, 2))), (4, ((6, 1), (7, 3))), (4, ((6, 2), (7, 4)))]
+        for order in itertools.permutations(rows):
+            one = slow.renumbered(plan((3,), *order, lists=(None,) * 5))
+            self.check(catalog, one, [((0,), ((0, (1, 2, 3)), (4, (4, 2, 0))))])
 
     def test_several_keys_of_a_table(self):
         catalog = with_facts(("t", key("x")), ("t", key("y z")))

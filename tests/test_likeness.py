@@ -71,6 +71,14 @@ class TellsOnceTest(unittest.TestCase):
         catalog = with_facts(("t", key("x")), ("u", key("x")), ("u", ref("y", "t", "x")))
         self.check(catalog, plain((0,), (U, ((5, 0), (6, 1))), (T, ((1, 1),)), lists=NONE2), True)
 
+    def test_rows_that_are_one_in_each_case(self):
+        # What is told is p where y is a, and q where y is b, so rows with other values of y tell something else.
+        one = plain((0,), (U, ((6, 1), (7, 0))), (U, ((6, "a"), (7, "p"))), (U, ((6, "b"), (7, "q"))), lists=(None, ("a", "b")))
+        self.check(with_facts(("u", key("y"))), one, True)
+        self.check(with_facts(("u", key("y"))), one[:2] + (one[2][:2], one[3]), False)
+        self.check(with_facts(("u", key("y z"))), one, False)
+        self.assertIs(alike(with_facts(("u", key("y"))), one, distinct(one)), True)
+
     def test_some_facts(self):
         catalog = with_facts(("t", key("x")), ("t", key("y")), ("t", ("in", "z", ("a",))))
         one = plain((0,), (T, ((1, 0),)), lists=(None,))
@@ -207,6 +215,25 @@ class AlikeTest(unittest.TestCase):
         self.check(with_facts(), loop, both, True)
         self.check(with_facts(), path, both, False)
         self.check(with_facts(("t", key("x"))), loop, distinct(plain((0,), (T, ((1, 0), (2, 0))), (T, ((1, 0),)), lists=(None,))), True)
+
+    def test_ways_that_end_nowhere(self):
+        def rows_of(*pairs):
+            ends = [end for pair in pairs for end in pair]
+            rows = [(T, tuple([(column, end) for column, end in zip((1, 2), pair) if ends.count(end) > 1])) for pair in pairs]
+            return slow.renumbered(distinct(plain(("a",), *rows, lists=(None,) * (max(ends) + 1))))
+
+        rings = {size: [(at, (at + 1) % size) for at in range(size)] for size in (1, 2, 3, 4)}
+        for size in rings:
+            for many in (2, 3, 4):
+                self.check(with_facts(), rows_of(*rings[size]), rows_of(*[(at, at + 1) for at in range(many)]), False)
+        # A ring goes into a ring whose length divides its own, whatever of it is led first.
+        for size, other in itertools.combinations(rings, 2):
+            self.check(with_facts(), rows_of(*rings[size]), rows_of(*rings[other]), False)
+            if size + other <= 4:
+                both = rings[size] + [(one + size, two + size) for one, two in rings[other]]
+                for order in itertools.permutations(both):
+                    self.check(with_facts(), rows_of(*rings[size]), rows_of(*order), True)
+                    self.check(with_facts(), rows_of(*rings[other]), rows_of(*order), False)
 
     def test_by_name(self):
         one = plain((0,), (V, ((9, 0),)), lists=(None,))

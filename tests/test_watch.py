@@ -139,6 +139,13 @@ class CallsTest(WatchCase):
             ("function", "own", "f", ("text",), 4)])
 
 
+    def test_what_views_tell_is_handed_in_with_its_type(self):
+        catalog = after_deeds(self.catalog, [*view("main.v", "select z as a, y as b from t", "main", "boss"), *view("main.w", "select b, a from v", "main", "boss")])
+        rest = [("at", "main", "t", 0), ("at", "main", "v", 7), ("at", "main", "w", 8), ("right", "boss", 8), ("rule", "boss", 0, None), ("column", 0, "y", 2), ("column", 0, "z", 3)]
+        self.watches(catalog, "select own.f(b) as k from main.w", "", rest + [("function", "own", "f", ("text",), 4), ("unmade", "own", "f", ("word",))])
+        self.watches(catalog, "select f(a) as k from w", "main", rest + [("function", "main", "f", ("word",), 5), ("unmade", "main", "f", ("num",))])
+
+
 class ViewsTest(WatchCase):
     def test_views_within_views(self):
         catalog = catalog_of(*table("main.t", "x, y"), *table("main.u", "x"), *view("own.v", "select t.x, y from t, u where u.x = y", "old main", "kim"),
