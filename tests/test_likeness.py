@@ -197,6 +197,19 @@ class AlikeTest(unittest.TestCase):
         self.check(catalog, distinct(one), distinct(two), True)
         self.check(catalog, distinct(one), distinct(plain(("c",), (V, ((9, 0),)), lists=(("a", "b"),))), True)
 
+    def test_as_often_with_a_key(self):
+        # A row of which each value is there already leaves the same case twice.
+        catalog = with_facts(("v", key("x")))
+        one = plain(("c",), (V, ((9, "a"),)), (V, ((9, "b"),)))
+        two = plain(("c",), *one[2], (V, ((9, 0),)), lists=(("a", "b"),))
+        self.check(catalog, one, two, False)
+        self.check(catalog, distinct(one), distinct(two), True)
+        # The same cases, and as many, but not each as often.
+        rows = [(V, ((9, number),)) for number in range(3)]
+        one, two = [plain(("c",), *rows, lists=(("a", "b"), middle, ("a", "c"))) for middle in (("a", "b"), ("a", "c"))]
+        self.check(catalog, one, two, False)
+        self.check(catalog, distinct(one), distinct(two), True)
+
     def test_classes_lead_one_for_one(self):
         # A ring of four and two rings of two have the same rows and classes as often.
         ring = plain(("a",), *[(T, ((1, at), (2, (at + 1) % 4))) for at in range(4)], lists=(None,) * 4)
