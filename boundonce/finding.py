@@ -33,9 +33,7 @@ def functions_for(catalog, path, schema, name, size):
 
 
 def type_lists(catalog, size):
-    """Return the lists of so many types with which a function of the catalog may stand."""
+    """Return the lists of one or two types with which a function of the catalog may stand."""
     if size == 1:
         return [(one,) for one in catalog.types]
-    if size == 2:
-        return [(one, two) for one in catalog.types for two in catalog.types]
-    return []
+    return [(one, two) for one in catalog.types for two in catalog.types]

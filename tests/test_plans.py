@@ -203,7 +203,8 @@ class IsPlanTest(unittest.TestCase):
         for call in [("call", 7, ()), ("call", 7, (0, 0)), ("call", 8, (0,)), ("call", 8, (0, 0, 0)), ("call", 0, (0,)), ("call", 1, (0,)), ("call", 10, (0,)),
                      ("call", 11, (0,)), ("call", 99, (0,)), ("call", -1, (0,)), ("call", None, (0,)), ("call", True, (0,)), ("call", 7, [0]), ["call", 7, (0,)],
                      ("call", 7, (False,)), ("call", 7, (None,)), ("call", 7, (1,)), ("call", 7, ("A",)), ("call", 7), ("call", 7, (0,), 0),
-                     ("column", 7, (0,)), ("call", "f", (0,)), ("call", 7, ((),)), ("call", 7, (("call", 7, ()),)), ()]:
+                     ("column", 7, (0,)), ("call", "f", (0,)), ("call", 7, ((),)), ("call", 7, (("call", 7, ()),)), (),
+                     ("call", 0, (0, 0, 0)), ("call", 1, (0, 0, 0, 0)), ("call", 11, (0, 0, 0, 0))]:
             self.wrong(plan(0, call), plan(0, ("call", 7, (call,))))
 
     def test_values(self):
