@@ -65,15 +65,20 @@ def need_statement(thing):
         raise InvalidStatement("this is no statement")
 
 
-def need_role(thing):
-    """Refuse any object that is no name of a role."""
+def need_path(thing):
+    """Refuse any object that is no path."""
+    if not is_path(thing):
+        raise InvalidPath("this is no path")
+
+
+def need_name(thing):
+    """Refuse any object that is no name."""
     if not is_name(thing):
-        raise InvalidName("this is no name of a role")
+        raise InvalidName("this is no name")
 
 
 def need_forms(statement, path, role):
     """Refuse any objects that are no statement, path and role."""
     need_statement(statement)
-    if not is_path(path):
-        raise InvalidPath("this is no path")
-    need_role(role)
+    need_path(path)
+    need_name(role)

@@ -95,6 +95,10 @@ class Catalog:
             raise Unknown("no table has this number")
         return list(self._holding.facts[table])
 
+    def has_fact(self, table, fact):
+        """Return whether a fact is declared of a table; there may be no such table."""
+        return fact in self._holding.facts.get(table, ())
+
     def has_right(self, role, number):
         """Return whether a role has the right on a table or view."""
         return isinstance(role, str) and is_number(number) and (role, number) in self._holding.rights
@@ -110,6 +114,10 @@ class Catalog:
         holding = self.copied_holding()
         holding.following = max(holding.following, number)
         return self.with_holding(holding)
+
+    def all_tables(self):
+        """Return the ascending list of the numbers of all tables."""
+        return sorted(self._holding.facts)
 
     def is_table(self, thing):
         """Return whether any object is the number of a table."""

@@ -1,7 +1,7 @@
 """What facts force: rows that must be there, rows that are one, and the cases that are left."""
 
 from boundonce.classes import Classes
-from boundonce.terms import classes_in, mapped_terms
+from boundonce.terms import in_order, mapped_terms
 
 
 class Tableau:
@@ -173,10 +173,7 @@ def case_of(tableau, told, numbers):
     for number in tableau.standing:
         table, parts = tableau.rows[number]
         rows.append((table, [classes.term(part) for part in parts]))
-    order = {}
-    for number in classes_in(terms) + [number for _, parts in rows for number in classes_in(parts)]:
-        order.setdefault(number, len(order))
-    return (mapped_terms(terms, order), tuple([(table, mapped_terms(parts, order)) for table, parts in rows]))
+    return in_order(terms, rows)
 
 
 def cases_by(shapes, plan):

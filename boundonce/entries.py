@@ -4,7 +4,7 @@ from boundonce.binder import bound_or_none
 from boundonce.bindings import binding_of
 from boundonce.deeds import after_deed
 from boundonce.errors import BoundError, InvalidEntry
-from boundonce.names import LETTERS, is_name
+from boundonce.names import is_name, word_at
 from boundonce.watch import holds, is_entry, watch_of
 
 
@@ -77,16 +77,6 @@ def fresh_name(catalog, entries):
     while word_at(at) in used or not is_name(word_at(at)):
         at += 1
     return word_at(at)
-
-
-def word_at(number):
-    """Return the word with a number, the shortest words first."""
-    word = ""
-    number += 1
-    while number > 0:
-        number, letter = divmod(number - 1, len(LETTERS))
-        word = LETTERS[letter] + word
-    return word
 
 
 def place_of(catalog, number):

@@ -19,21 +19,21 @@ def is_pair(thing):
     return isinstance(thing, tuple) and len(thing) == 2
 
 
+def is_index(thing, many):
+    """Return whether a thing is the index of one of so many."""
+    return is_number(thing) and 0 <= thing < many
+
+
 def are_different(things):
     """Return whether strings, or tuples of strings, are all different."""
     return len(set(things)) == len(things)
 
 
 def is_same(thing, wanted):
-    """Return whether a thing is just this one, made of tuples, strings, integers, bools and None."""
+    """Return whether a thing is just this one, made of tuples, lists, strings, integers, bools and None."""
     # In Python True is 1 and False is 0, so == alone would take one for the other.
-    if isinstance(wanted, tuple):
-        if not isinstance(thing, tuple) or len(thing) != len(wanted):
-            return False
-        for part, other in zip(thing, wanted):
-            if not is_same(part, other):
-                return False
-        return True
+    if isinstance(wanted, (tuple, list)):
+        return isinstance(thing, (tuple, list)) and are_same(thing, wanted)
     if isinstance(wanted, bool):
         return isinstance(thing, bool) and thing == wanted
     if isinstance(wanted, int):
@@ -41,3 +41,13 @@ def is_same(thing, wanted):
     if isinstance(wanted, str):
         return isinstance(thing, str) and thing == wanted
     return thing is None
+
+
+def are_same(things, wanted):
+    """Return whether a tuple or list is of the same kind as another one, and its parts are the same."""
+    if isinstance(things, tuple) != isinstance(wanted, tuple) or len(things) != len(wanted):
+        return False
+    for part, other in zip(things, wanted):
+        if not is_same(part, other):
+            return False
+    return True

@@ -1,9 +1,10 @@
 """Whether plans tell rows once, and whether two plans have the same answers on all data."""
 
-from boundonce.chase import add_rows, cases_by, tableau_of
-from boundonce.matching import rows_between, rows_into
+from boundonce.chase import add_rows, case_of, cases_by, leaves_of, tableau_of
+from boundonce.matching import rows_into
+from boundonce.pairing import paired_cases
 from boundonce.shapes import Shapes
-from boundonce.terms import classes_in, mapped_terms
+from boundonce.terms import classes_in
 
 
 def tells_once(catalog, plan, by=None):
@@ -13,9 +14,11 @@ def tells_once(catalog, plan, by=None):
 
 def alike(catalog, one, two, by=None):
     """Return whether two plans have the same answers on all data that keep some facts."""
+    if one == two:
+        return True
     shapes = Shapes(catalog, by)
     if not one[0] and not two[0]:
-        return are_same_cases(cases_by(shapes, one), cases_by(shapes, two))
+        return paired_cases(cases_by(shapes, one), cases_by(shapes, two)) is not None
     for plan in (one, two):
         if not plan[0] and not tells_once_by(shapes, plan):
             return False
@@ -61,40 +64,6 @@ def twice(shapes, plan):
     return tableau
 
 
-def are_same_cases(ones, twos):
-    """Return whether two lists have the same cases, each as often."""
-    if len(ones) != len(twos):
-        return False
-    left = {}
-    for case in twos:
-        left.setdefault(outline(case), []).append(case)
-    for case in ones:
-        # Being the same leads on from case to case, so it does not matter which one is taken.
-        others = left.get(outline(case), [])
-        at = first_same(case, others)
-        if at is None:
-            return False
-        left[outline(case)] = others[:at] + others[at + 1:]
-    return True
-
-
-def first_same(case, others):
-    """Return the index of the first case that is the same as another one, or None."""
-    for at, other in enumerate(others):
-        if case == other or rows_between(case, other) is not None:
-            return at
-    return None
-
-
-def outline(case):
-    """Return a string that is equal for equal cases; cases that differ seldom have the same."""
-    told, rows = case
-    shown = {number: number for number in classes_in(told)}
-    counts = {}
-    for _, terms in rows:
-        for number in classes_in(terms):
-            counts[number] = counts.get(number, 0) + 1
-    for number in counts:
-        # What is told is numbered alike in equal cases; of the other classes only the sizes are alike.
-        shown.setdefault(number, -counts[number])
-    return repr(told) + " ".join(sorted([repr((table, mapped_terms(terms, shown))) for table, terms in rows]))
+def cases_twice(shapes, plan):
+    """Return the list of the cases, which tell nothing, of a plan that has each row twice."""
+    return [case_of(leaf, (), []) for leaf in leaves_of(twice(shapes, plan))]

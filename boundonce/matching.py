@@ -133,8 +133,13 @@ def rows_into(shapes, plan, case):
     known = PlanMap(plan[3])
     if not known.maps_all(plan[1], case[0]):
         return None
+    return RowSearch(placed_rows(shapes, plan), case[1], False).result(known)
+
+
+def placed_rows(shapes, plan):
+    """Return the rows of a plan as a list of tuples (table, places, terms)."""
     rows = []
     for table, columns in plan[2]:
         places = shapes.shape_of(table).places
         rows.append((table, [places[column] for column, _ in columns], [term for _, term in columns]))
-    return RowSearch(rows, case[1], False).result(known)
+    return rows

@@ -37,3 +37,13 @@ def is_type_list(thing):
 def is_name_or_none(thing):
     """Return whether any object may stand where a schema or a label may be left out."""
     return thing is None or is_name(thing)
+
+
+def word_at(number):
+    """Return the word with a number, the shortest words first."""
+    word = ""
+    number += 1
+    while number > 0:
+        number, letter = divmod(number - 1, len(LETTERS))
+        word = LETTERS[letter] + word
+    return word

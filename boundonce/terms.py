@@ -24,3 +24,21 @@ def classes_in(terms):
         elif not isinstance(term, str):
             found.append(term)
     return found
+
+
+def in_order(told, rows):
+    """Return a case with classes numbered from 0 on as they stand in what is told, then in rows."""
+    order = {}
+    for number in classes_in(told) + [number for _, terms in rows for number in classes_in(terms)]:
+        order.setdefault(number, len(order))
+    return (mapped_terms(told, order), tuple([(table, mapped_terms(terms, order)) for table, terms in rows]))
+
+
+def functions_in(terms):
+    """Return the list of the functions that are called in terms, also within calls."""
+    found = []
+    for term in terms:
+        if isinstance(term, tuple):
+            found.append(term[1])
+            found.extend(functions_in(term[2]))
+    return found

@@ -3,7 +3,7 @@
 from itertools import permutations
 
 from boundonce.binder import bound_or_none
-from boundonce.bindings import need_role, need_statement
+from boundonce.bindings import need_name, need_statement
 from boundonce.statements import MOST_SCHEMAS
 
 
@@ -38,7 +38,7 @@ def calls_without_schema(terms):
 def path_classes(catalog, statement, role):
     """Return a list of pairs of a binding, or None, and the paths of schemas that matter with which there is it."""
     schemas = mattering(catalog, statement)
-    need_role(role)
+    need_name(role)
     found = []
     places = {}
     for path in paths_of(schemas):
