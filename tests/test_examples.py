@@ -41,4 +41,4 @@ class ExamplesTest(unittest.TestCase):
                         self.assertEqual(told_by(line, names), told)
 
     def test_none_is_left_out(self):
-        self.assertEqual([len(steps) for _, steps in blocks()], [2, 3, 5, 3, 6, 6, 8, 6, 7, 7])
+        self.assertEqual([len(steps) for _, steps in blocks()], [2, 3, 5, 3, 6, 6, 8, 6, 6, 7, 7, 3, 5])

@@ -6,6 +6,10 @@ import inspect
 import os
 import unittest
 
+from boundonce.caches import Cache
+from boundonce.catalogs import Catalog
+from boundonce.records import Recorder
+
 FOLDER = os.path.join(os.path.dirname(os.path.dirname(os.path.abspath(__file__))), "boundonce")
 
 FUNCTIONS = {
@@ -28,6 +32,14 @@ FUNCTIONS = {
     "likeness": {"tells_once": "(catalog, plan, by=None)", "alike": "(catalog, one, two, by=None)"},
     "leaning": {"parts_of": "(plan)", "without_part": "(plan, part)", "needless_parts": "(catalog, plan, by=None)",
                 "lean_plan": "(catalog, plan)"},
+    "data": {"is_data": "(catalog, thing)", "answers_to": "(catalog, plan, data, *, flat=False)"},
+    "papers": {"paper_for": "(catalog, one, two)", "is_paper": "(catalog, one, two, thing)"},
+    "least": {"parting_data": "(catalog, one, two)", "fewest_rows": "(catalog, one, two)", "is_parting_data": "(catalog, one, two, thing)"},
+    "legs": {"legs_of": "(catalog, one, two)", "ends_of": "(catalog, one, two)", "are_legs": "(catalog, one, two, thing)",
+             "are_ends": "(catalog, one, two, thing)", "one_leg": "(catalog, one, two)"},
+    "kept": {"word_for": "(catalog, statement, path, role, binding, plan)", "words_behind": "(catalog, statement, path, role, deeds)"},
+    "records": {"is_record": "(catalog, thing)", "replayed": "(catalog, record)"},
+    "deedtexts": {"write_deed": "(deed)", "read_deed": "(text)", "write_entry": "(entry)"},
 }
 CLASSES = {
     ("catalogs", "Catalog"): {
@@ -42,8 +54,28 @@ CLASSES = {
         "rule_for": "(self, role, number)",
         "numbered_from": "(self, number)",
     },
+    ("caches", "Cache"): {
+        "__init__": "(self, catalog)",
+        "enter": "(self, name, path, role)",
+        "leave": "(self, name)",
+        "perform": "(self, name, deed)",
+        "begin": "(self, name)",
+        "commit": "(self, name)",
+        "revert": "(self, name)",
+        "ask": "(self, name, statement)",
+        "barred": "(self, name, statement)",
+        "catalog_for": "(self, name)",
+        "copy": "(self)",
+    },
+    ("records", "Recorder"): {"__init__": "(self, catalog)"},
+    ("shell", "Shell"): {"__init__": "(self)", "run": "(self, line)"},
 }
-PROPERTIES = {("catalogs", "Catalog"): ("types", "casts", "next_number", "all_numbers")}
+PROPERTIES = {
+    ("catalogs", "Catalog"): ("types", "casts", "next_number", "all_numbers"),
+    ("caches", "Cache"): ("shared", "sessions", "bound_anew", "used_again", "plans_kept"),
+    ("records", "Recorder"): ("recorded",),
+    ("shell", "Shell"): (),
+}
 
 
 def defined_in(module):
@@ -71,8 +103,11 @@ class InterfaceTest(unittest.TestCase):
                 self.assertIsInstance(vars(one)[word], property, word)
 
     def test_properties_are_not_set(self):
-        from boundonce.catalogs import Catalog
         catalog = Catalog(("text",))
-        for word in PROPERTIES["catalogs", "Catalog"]:
-            with self.assertRaises(AttributeError):
-                setattr(catalog, word, 1)
+        for one, words in [(catalog, PROPERTIES["catalogs", "Catalog"]), (Recorder(catalog), PROPERTIES["caches", "Cache"] + ("recorded",))]:
+            for word in words:
+                with self.assertRaises(AttributeError):
+                    setattr(one, word, 1)
+
+    def test_a_recorder_is_a_cache(self):
+        self.assertTrue(issubclass(Recorder, Cache))

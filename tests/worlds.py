@@ -321,3 +321,18 @@ def make_pair(source, catalog):
         if parts:
             two = without_part(two, source.choice(parts))
     return one, two
+
+
+def fact_deed(catalog, word, pair):
+    """Return the deed ("fact", ..) or ("drop fact", ..) for a fact as the catalog tells it."""
+    table, fact = pair
+
+    def names(columns):
+        return tuple([catalog.thing_of(column)[2] for column in columns])
+
+    place = catalog.thing_of(table)[1:3]
+    if fact[0] == "in":
+        return (word, *place, ("in", names([fact[1]])[0], fact[2]))
+    if fact[0] == "key":
+        return (word, *place, ("key", names(fact[1])))
+    return (word, *place, ("ref", names(fact[1]), *catalog.thing_of(fact[2])[1:3], names(fact[3])))
