@@ -30,21 +30,31 @@ class Binder:
         distinct, told, sources, conditions = statement
         found = self.bind_sources(sources, path)
         columns = []
+        self.part = "told"
         for index, item in enumerate(told):
-            self.part, self.index = "told", index
-            columns.extend(self.bind_told(item, found, path))
+            self.index = index
+            if item[0] == "star":
+                columns.extend(columns_of_star(item[1], found))
+            else:
+                columns.append((item[2], self.bind_term(item[1], found, path)))
         bound = []
+        self.part = "condition"
         for index, condition in enumerate(conditions):
-            self.part, self.index = "condition", index
+            self.index = index
             bound.append(bind_condition(condition, found))
         terms = tuple([(name, column[0]) for name, column in columns])
         return (distinct, terms, tuple([source[1] for source in found]), tuple(bound)), columns
 
     def bind_sources(self, sources, path):
-        """Return a list with a tuple (label, bound, columns) for each source; columns is a dict by names."""
+        """Return a list with a tuple (label, bound, columns, calls) for each source.
+
+        Columns is a dict by names of pairs: the number, of a view the index,
+        and the type. Calls is a dict of the names of those that are calls.
+        """
         found = []
+        self.part = "source"
         for index, (schema, name, label) in enumerate(sources):
-            self.part, self.index = "source", index
+            self.index = index
             number = meant(self.catalog, path, schema, name)
             if number is None:
                 raise Unknown("nothing stands there")
@@ -52,14 +62,14 @@ class Binder:
                 raise NoRight("the role does not have the right on a source")
             if self.catalog.is_table(number):
                 bound = ("table", number, self.catalog.rule_for(self.role, number))
-                columns = columns_of_table(self.catalog, number)
+                found.append((label, bound, self.catalog.columns_of(number), {}))
             else:
-                bound, columns = self.open_view(number)
-            found.append((label, bound, columns))
+                found.append((label,) + self.open_view(number))
+                self.part, self.index = "source", index
         return found
 
     def open_view(self, number):
-        """Return how a view stands in a binding, and a dict of its columns."""
+        """Return how a view stands in a binding, a dict of its columns, and one of those that are calls."""
         if number in self.opening:
             raise Ring("a view is opened within itself")
         # A view that could be opened reaches no ring, so it is opened alike wherever it stands.
@@ -68,15 +78,10 @@ class Binder:
             self.opening.append(number)
             binding, told = self.bind(statement, path)
             self.opening.pop()
-            columns = {name: (at, told[at][1][1], told[at][1][2]) for at, (name, _) in enumerate(told)}
-            self.opened[number] = (("view", number, binding), columns)
+            columns = {name: (at, column[1]) for at, (name, column) in enumerate(told)}
+            calls = {name: True for name, column in told if column[2]}
+            self.opened[number] = (("view", number, binding), columns, calls)
         return self.opened[number]
-
-    def bind_told(self, item, sources, path):
-        """Return the list of pairs (name, column) of a told thing: several ones for a star."""
-        if item[0] == "star":
-            return columns_of_star(item[1], sources)
-        return [(item[2], self.bind_term(item[1], sources, path))]
 
     def bind_term(self, term, sources, path):
         """Return the column of a term."""
@@ -91,42 +96,32 @@ class Binder:
         return (call, self.catalog.thing_of(number)[4], True)
 
 
-def columns_of_table(catalog, table):
-    """Return a dict of the columns of a table by their names, in order."""
-    columns = {}
-    for number in catalog.thing_of(table)[3]:
-        name, kind = catalog.thing_of(number)[2:]
-        columns[name] = (number, kind, False)
-    return columns
-
-
 def columns_of_star(label, sources):
     """Return the pairs (name, column) of all columns of the source with a label."""
-    for at, (other, _, columns) in enumerate(sources):
+    for at, (other, _, columns, calls) in enumerate(sources):
         if other == label:
-            return [(name, column_at(at, columns[name])) for name in columns]
+            return [(name, column_at(at, columns[name], name in calls)) for name in columns]
     raise Unknown("no source has the label")
 
 
-def column_at(at, column):
+def column_at(at, column, called):
     """Return a column of a source as it is told outside of the source."""
-    thing, kind, called = column
+    thing, kind = column
     return (("column", at, thing), kind, called)
 
 
 def find_column(column, sources):
     """Return what a column with a label, perhaps None, and a name means."""
     label, name = column
-    found = [
-        at
-        for at, (other, _, columns) in enumerate(sources)
-        if name in columns and (label is None or label == other)
-    ]
-    if not found:
+    found = None
+    for at, (other, _, columns, calls) in enumerate(sources):
+        if name in columns and (label is None or label == other):
+            if found is not None:
+                raise Ambiguous("several sources have the column")
+            found = column_at(at, columns[name], name in calls)
+    if found is None:
         raise Unknown("no source has the column")
-    if len(found) > 1:
-        raise Ambiguous("several sources have the column")
-    return column_at(found[0], sources[found[0]][2][name])
+    return found
 
 
 def find_compared(column, sources):

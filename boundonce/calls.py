@@ -4,7 +4,7 @@ The places at which a function casts are told as an integer, one bit a place.
 """
 
 from boundonce.errors import Ambiguous, Unknown
-from boundonce.finding import functions_for
+from boundonce.finding import callable_functions
 
 
 def fits(catalog, number, given):
@@ -22,8 +22,8 @@ def beats(catalog, one, other, given):
 def best_function(catalog, path, schema, name, given):
     """Return the number of the best function of a call."""
     fitting = []
-    for number in functions_for(catalog, path, schema, name, len(given)):
-        places = places_cast(catalog, types_of(catalog, number), given)
+    for types, number in callable_functions(catalog, path, schema, name, len(given)).items():
+        places = places_cast(catalog, types, given)
         if places is not None:
             fitting.append((places, number))
     if not fitting:
@@ -59,3 +59,12 @@ def are_fewer(ones, others):
 def types_of(catalog, number):
     """Return the list of types of a function."""
     return catalog.thing_of(number)[3]
+
+
+def fitting_lists(catalog, given):
+    """Return the lists of types with which a function fits if things of some types are handed in."""
+    lists = [()]
+    for handed in given:
+        asked = catalog.types if handed is None else catalog.asked_for(handed)
+        lists = [types + (one,) for types in lists for one in asked]
+    return lists

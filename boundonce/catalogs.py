@@ -56,7 +56,7 @@ class Catalog:
 
     def thing_of(self, number):
         """Return the thing with a number."""
-        if not is_number(number) or number not in self._holding.things:
+        if not isinstance(number, int) or isinstance(number, bool) or number not in self._holding.things:
             raise Unknown("no thing has this number")
         return self._holding.things[number]
 
@@ -81,13 +81,18 @@ class Catalog:
 
     def column_of(self, table, name):
         """Return the number of a column of a table, or None."""
-        if not self.is_table(table) or not isinstance(name, str):
+        if not self.is_table(table) or not isinstance(name, str) or name not in self._holding.columns[table]:
             return None
-        return self._holding.columns[table].get(name)
+        return self._holding.columns[table][name][0]
 
     def columns_of(self, table):
-        """Return a list of pairs (name, number) of the columns of a table, in order."""
-        return list(self._holding.columns[table].items())
+        """Return the dict, which nobody changes, from the names of the columns of a table to pairs (number, type)."""
+        return self._holding.columns[table]
+
+    def named_columns_of(self, table):
+        """Return the tuple of the pairs (name, number) of the columns of a table, in order."""
+        columns = self._holding.columns[table]
+        return tuple([(name, columns[name][0]) for name in columns])
 
     def facts_of(self, table):
         """Return the declared facts of a table, ascending."""
@@ -121,7 +126,7 @@ class Catalog:
 
     def is_table(self, thing):
         """Return whether any object is the number of a table."""
-        return is_number(thing) and thing in self._holding.facts
+        return isinstance(thing, int) and not isinstance(thing, bool) and thing in self._holding.facts
 
     def is_function(self, thing):
         """Return whether any object is the number of a function."""
@@ -130,6 +135,10 @@ class Catalog:
     def is_cast(self, one, other):
         """Return whether a thing of a type may be handed in, by a cast, where another type is asked for."""
         return (one, other) in self._casting
+
+    def asked_for(self, one):
+        """Return the list of the types where which are asked for a thing of a type may be handed in."""
+        return [one] + [pair[1] for pair in self._casts if pair[0] == one]
 
     def copied_holding(self):
         """Return what the catalog holds, to be changed."""

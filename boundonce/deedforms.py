@@ -1,6 +1,6 @@
 """The forms of deeds: what stands at each place of a deed of each kind."""
 
-from boundonce.forms import are_different, is_pair, is_tuple_of
+from boundonce.forms import are_different, begins_with_word, have_forms, is_pair, is_tuple_of
 from boundonce.names import is_name, is_type_list, is_values
 from boundonce.statements import is_path, is_view_statement
 
@@ -37,28 +37,16 @@ def has_deed_form(thing):
     """Return whether any object is a deed by its form."""
     if not begins_with_word(thing) or thing[0] not in DEED_FORMS:
         return False
-    return have_forms(thing[1:], DEED_FORMS[thing[0]])
+    return have_forms(thing[1:], DEED_FORMS[thing[0]], has_form)
 
 
 def has_fact_form(thing):
     """Return whether any object is a fact with names, as a deed has it."""
     if not begins_with_word(thing) or thing[0] not in FACT_FORMS:
         return False
-    if not have_forms(thing[1:], FACT_FORMS[thing[0]]):
+    if not have_forms(thing[1:], FACT_FORMS[thing[0]], has_form):
         return False
     return thing[0] != "ref" or len(thing[1]) == len(thing[4])
-
-
-def begins_with_word(thing):
-    """Return whether any object is a tuple that begins with a string."""
-    return isinstance(thing, tuple) and len(thing) > 0 and isinstance(thing[0], str)
-
-
-def have_forms(things, forms):
-    """Return whether things have these forms, one for one."""
-    if len(things) != len(forms):
-        return False
-    return all([has_form(thing, form) for thing, form in zip(things, forms)])
 
 
 def has_form(thing, form):

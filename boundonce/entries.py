@@ -5,13 +5,17 @@ from boundonce.bindings import binding_of
 from boundonce.deeds import after_deed
 from boundonce.errors import BoundError, InvalidEntry
 from boundonce.names import is_name, word_at
-from boundonce.watch import holds, is_entry, watch_of
+from boundonce.watch import holds, is_true, watch_with
 
 
 def breaking_deed(catalog, statement, path, role, entry):
     """Return a deed behind which this entry of the watch does not hold, and all others do."""
-    watch = watch_of(catalog, statement, path, role)
-    if not is_entry(entry) or entry not in watch:
+    binding = binding_of(catalog, statement, path, role)
+    # All entries of the watch hold, so for most of what is none of them the watch is not needed.
+    if not is_true(catalog, entry):
+        raise InvalidEntry("this is no entry that holds")
+    watch = watch_with(catalog, statement, path, role, binding)
+    if entry not in watch:
         raise InvalidEntry("this is no entry of the watch")
     return deed_against(catalog, entry, watch)
 
@@ -35,25 +39,30 @@ def is_parting(catalog, statement, path, role, entries, thing):
         behind = after_deed(catalog, thing)
     except BoundError:
         return False
-    if not all([holds(behind, entry) for entry in entries]):
-        return False
+    for entry in entries:
+        if not holds(behind, entry):
+            return False
     return bound_or_none(behind, statement, path, role) != binding
 
 
 def need_entries(catalog, thing):
     """Refuse any object that is no list of entries that hold."""
-    if not isinstance(thing, list) or not all([is_entry(entry) and holds(catalog, entry) for entry in thing]):
-        raise InvalidEntry("this is no list of entries that hold")
+    if not isinstance(thing, list):
+        raise InvalidEntry("this is no list of entries")
+    for entry in thing:
+        if not is_true(catalog, entry):
+            raise InvalidEntry("this is no list of entries that hold")
 
 
 def first_open(catalog, statement, path, role, entries):
     """Return the first entry of the watch that may break while all of a list hold, or None."""
-    watch = watch_of(catalog, statement, path, role)
+    binding = binding_of(catalog, statement, path, role)
     need_entries(catalog, entries)
-    whole = [entry[1] for entry in entries if entry[0] == "columns"]
-    for entry in watch:
+    known = {entry: True for entry in entries}
+    whole = {entry[1]: True for entry in entries if entry[0] == "columns"}
+    for entry in watch_with(catalog, statement, path, role, binding):
         # Of all entries only the columns of a table tell something that another kind tells, too.
-        if entry not in entries and not (entry[0] in ("column", "bare") and entry[1] in whole):
+        if entry not in known and not (entry[0] in ("column", "bare") and entry[1] in whole):
             return entry
     return None
 

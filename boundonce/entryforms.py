@@ -1,7 +1,6 @@
 """The forms of entries: what stands at each place of an entry of each kind."""
 
-from boundonce.deedforms import begins_with_word
-from boundonce.forms import is_number, is_pair
+from boundonce.forms import begins_with_word, have_forms, is_number, is_pair
 from boundonce.names import is_name, is_type_list, is_values
 
 ENTRY_FORMS = {
@@ -21,10 +20,7 @@ def has_entry_form(thing):
     """Return whether any object is an entry by its form."""
     if not begins_with_word(thing) or thing[0] not in ENTRY_FORMS:
         return False
-    forms = ENTRY_FORMS[thing[0]]
-    if len(thing) != len(forms) + 1:
-        return False
-    return all([is_part(part, form) for part, form in zip(thing[1:], forms)])
+    return have_forms(thing[1:], ENTRY_FORMS[thing[0]], is_part)
 
 
 def is_part(thing, form):

@@ -23,17 +23,15 @@ def schemas_ahead(catalog, path, name):
 
 def functions_for(catalog, path, schema, name, size):
     """Return the numbers of the functions of a call with so many terms, ascending."""
+    return sorted(list(callable_functions(catalog, path, schema, name, size).values()))
+
+
+def callable_functions(catalog, path, schema, name, size):
+    """Return a dict of the functions of a call with so many terms: by their lists of types their numbers."""
     schemas = path if schema is None else (schema,)
     first = {}
     for at in schemas:
         for types, number in catalog.functions_named(at, name):
             if len(types) == size:
                 first.setdefault(types, number)
-    return sorted(first.values())
-
-
-def type_lists(catalog, size):
-    """Return the lists of one or two types with which a function of the catalog may stand."""
-    if size == 1:
-        return [(one,) for one in catalog.types]
-    return [(one, two) for one in catalog.types for two in catalog.types]
+    return first

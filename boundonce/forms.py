@@ -11,7 +11,25 @@ def is_tuple_of(thing, least, most, is_part):
     # The length is looked at first: a thing may be very large.
     if not isinstance(thing, tuple) or not least <= len(thing) <= most:
         return False
-    return all([is_part(part) for part in thing])
+    for part in thing:
+        if not is_part(part):
+            return False
+    return True
+
+
+def begins_with_word(thing):
+    """Return whether a thing is a tuple that begins with a string."""
+    return isinstance(thing, tuple) and len(thing) > 0 and isinstance(thing[0], str)
+
+
+def have_forms(things, forms, has_form):
+    """Return whether parts of a thing have the forms with these words, one for one, which has_form accepts."""
+    if len(things) != len(forms):
+        return False
+    for thing, form in zip(things, forms):
+        if not has_form(thing, form):
+            return False
+    return True
 
 
 def is_pair(thing):

@@ -66,8 +66,11 @@ class Holding:
         self.note_columns(table)
 
     def note_columns(self, table):
-        """Find the columns of a table by their names as they are now."""
-        named = {self.things[number][2]: number for number in self.things[table][3]}
+        """Find the columns of a table by their names as they are now, pairs of a number and a type."""
+        named = {}
+        for number in self.things[table][3]:
+            _, _, name, kind = self.things[number]
+            named[name] = (number, kind)
         self.columns = with_items(self.columns, {table: named})
 
     def note_function(self, place, types, number):

@@ -1,17 +1,20 @@
 """Names and values: the words that everything else is made of."""
 
-from boundonce.forms import are_different, is_tuple_of
+from boundonce.forms import is_tuple_of
 
 LETTERS = "abcdefghijklmnopqrstuvwxyz"
 MOST_LETTERS = 8
 MOST_VALUES = 8
 MOST_HANDED_IN = 2
-RESERVED = ("select", "distinct", "as", "from", "where", "and", "in")
+RESERVED = {"select": True, "distinct": True, "as": True, "from": True, "where": True, "and": True, "in": True}
 
 
 def is_name(thing):
     """Return whether any object is a name."""
-    return is_value(thing) and thing not in RESERVED
+    # Written out, though is_value says most of it: nothing is asked as often as this.
+    if not isinstance(thing, str) or len(thing) > MOST_LETTERS:
+        return False
+    return thing.isascii() and thing.isalpha() and thing.islower() and thing not in RESERVED
 
 
 def is_value(thing):
@@ -24,9 +27,17 @@ def is_value(thing):
 
 def is_values(thing):
     """Return whether any object is an ascending tuple of one to eight different values."""
-    if not is_tuple_of(thing, 1, MOST_VALUES, is_value):
-        return False
-    return thing == tuple(sorted(thing)) and are_different(thing)
+    return is_tuple_of(thing, 1, MOST_VALUES, is_value) and are_ascending(thing)
+
+
+def are_ascending(values):
+    """Return whether values ascend and are all different."""
+    last = ""
+    for value in values:
+        if value <= last:
+            return False
+        last = value
+    return True
 
 
 def is_type_list(thing):

@@ -1,8 +1,7 @@
 """Papers that two plans are alike: what anybody can check without a search."""
 
 from boundonce.chase import cases_by
-from boundonce.deedforms import begins_with_word
-from boundonce.forms import is_index, is_number, is_pair
+from boundonce.forms import begins_with_word, is_index, is_number, is_pair
 from boundonce.likeness import tells_once_by
 from boundonce.matching import CaseMap, PlanMap, placed_rows, rows_into
 from boundonce.names import is_value

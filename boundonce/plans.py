@@ -2,7 +2,7 @@
 
 from boundonce.classes import Classes
 from boundonce.forms import is_number, is_pair, is_tuple_of
-from boundonce.names import MOST_VALUES, is_value
+from boundonce.names import MOST_VALUES, are_ascending, is_value
 from boundonce.planforms import formed
 from boundonce.terms import classes_in, mapped_terms
 
@@ -87,9 +87,7 @@ def is_plan(catalog, thing):
 
 def is_list(thing):
     """Return whether any object is an ascending tuple of no value, or of two to eight different ones."""
-    if not is_tuple_of(thing, 0, MOST_VALUES, is_value) or len(thing) == 1:
-        return False
-    return list(thing) == sorted(set(thing))
+    return is_tuple_of(thing, 0, MOST_VALUES, is_value) and len(thing) != 1 and are_ascending(thing)
 
 
 def is_class(thing, many):

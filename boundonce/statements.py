@@ -1,6 +1,6 @@
 """The form of statements and paths."""
 
-from boundonce.forms import are_different, is_pair, is_tuple_of
+from boundonce.forms import are_different, is_tuple_of
 from boundonce.names import is_name, is_name_or_none, is_value, is_values
 
 MOST_SOURCES = 4
@@ -42,7 +42,10 @@ def is_path(thing):
 
 def is_column(thing):
     """Return whether any object is a column of a statement."""
-    return is_pair(thing) and is_name_or_none(thing[0]) and is_name(thing[1])
+    if not isinstance(thing, tuple) or len(thing) != 2:
+        return False
+    label, name = thing
+    return (label is None or is_name(label)) and is_name(name)
 
 
 def is_call(thing, deepest):
@@ -55,14 +58,19 @@ def is_call(thing, deepest):
         return False
     if not isinstance(terms, tuple) or not 1 <= len(terms) <= MOST_TERMS:
         return False
-    return all([is_column(term) or is_value(term) or is_call(term, deepest - 1) for term in terms])
+    for term in terms:
+        if not is_column(term) and not is_value(term) and not is_call(term, deepest - 1):
+            return False
+    return True
 
 
 def is_told(thing):
     """Return whether any object is a told thing of a statement."""
-    if is_pair(thing):
+    if not isinstance(thing, tuple):
+        return False
+    if len(thing) == 2:
         return thing[0] == "star" and is_name(thing[1])
-    if not isinstance(thing, tuple) or len(thing) != 3 or not is_name(thing[2]):
+    if len(thing) != 3 or not is_name(thing[2]):
         return False
     if thing[0] == "column":
         return is_column(thing[1])
@@ -74,7 +82,7 @@ def is_source(thing):
     if not isinstance(thing, tuple) or len(thing) != 3:
         return False
     schema, name, label = thing
-    return is_name_or_none(schema) and is_name(name) and is_name(label)
+    return (schema is None or is_name(schema)) and is_name(name) and is_name(label)
 
 
 def is_condition(thing):

@@ -1,22 +1,25 @@
 """The watch of a statement: on which entries its binding stands."""
 
 from boundonce.bindings import binding_of
-from boundonce.calls import are_fewer, places_cast
+from boundonce.calls import are_fewer, fitting_lists, places_cast
 from boundonce.entryforms import has_entry_form
-from boundonce.finding import schemas_ahead, type_lists
+from boundonce.finding import schemas_ahead
+from boundonce.forms import begins_with_word, is_number, is_same
+from boundonce.names import is_name, is_type_list
 
 
 class Watcher:
-    """Gathers the entries of a statement and of the views that it opens, in one catalog for one role."""
+    """Gathers the entries of a statement and of the views that it opens, in one catalog for one role.
+
+    Entries is a dict in which each stands once, and whole one of the tables
+    whose columns are told by one entry.
+    """
 
     def __init__(self, catalog, role):
         self.catalog = catalog
         self.role = role
         self.entries = {}
-
-    def note(self, entry):
-        """Keep an entry, once."""
-        self.entries[entry] = True
+        self.whole = {}
 
     def watch(self, statement, path, binding):
         """Gather the entries of a statement with its binding, and of the views in it."""
@@ -33,67 +36,73 @@ class Watcher:
                 self.watch_term(item[1], binding[1][at][1], path, binding)
                 at += 1
         for (word, column, other), (_, term, second) in zip(conditions, binding[3]):
-            self.watch_term(column, term, path, binding)
+            self.watch_column(column, term, binding)
             if word == "equal":
-                self.watch_term(other, second, path, binding)
+                self.watch_column(other, second, binding)
 
     def watch_source(self, source, path, bound):
         """Gather the entries of a source, and of the statement of a view."""
         schema, name, _ = source
         word, number, rest = bound
-        place, own_name = self.catalog.thing_of(number)[1:3]
-        self.note(("at", place, own_name, number))
+        thing = self.catalog.thing_of(number)
+        self.entries[("at", thing[1], thing[2], number)] = True
         if schema is None:
             for ahead in schemas_ahead(self.catalog, path, name):
-                self.note(("free", ahead, name))
+                self.entries[("free", ahead, name)] = True
         if word == "table":
-            self.note(("rule", self.role, number, rest))
+            self.entries[("rule", self.role, number, rest)] = True
         else:
-            statement, path = self.catalog.thing_of(number)[3:]
-            self.watch(statement, path, rest)
+            self.watch(thing[3], thing[4], rest)
 
     def watch_star(self, at, binding):
         """Gather the entry of a star of a source, and return how many columns it tells."""
         word, number, rest = binding[2][at]
         if word == "view":
             return len(rest[1])
-        pairs = tuple(self.catalog.columns_of(number))
-        self.note(("columns", number, pairs))
+        pairs = self.catalog.named_columns_of(number)
+        self.entries[("columns", number, pairs)] = True
+        self.whole[number] = True
         return len(pairs)
 
     def watch_term(self, term, bound, path, binding):
-        """Gather the entries of a column or a call with what it is bound to."""
+        """Gather the entries of a value, a column or a call with what it is bound to."""
         if isinstance(term, str):
             return
-        if len(term) == 4:
-            for part, inner in zip(term[3], bound[2]):
-                self.watch_term(part, inner, path, binding)
-            self.watch_call(term, bound, path, binding)
+        if len(term) == 2:
+            self.watch_column(term, bound, binding)
             return
-        label, name = term
-        for at, (word, number, _) in enumerate(binding[2]):
-            if word == "table" and at == bound[1]:
-                self.note(("column", number, name, bound[2]))
-            elif word == "table" and label is None:
-                self.note(("bare", number, name))
+        for part, inner in zip(term[3], bound[2]):
+            self.watch_term(part, inner, path, binding)
+        self.watch_call(term, bound, path, binding)
+
+    def watch_column(self, column, bound, binding):
+        """Gather the entries of a column with what it is bound to."""
+        label, name = column
+        _, source, thing = bound
+        word, number, _ = binding[2][source]
+        if word == "table":
+            self.entries[("column", number, name, thing)] = True
+        if label is None:
+            for at, (word, number, _) in enumerate(binding[2]):
+                if word == "table" and at != source:
+                    self.entries[("bare", number, name)] = True
 
     def watch_call(self, call, bound, path, binding):
         """Gather the entries of a call itself: the best function, and what must stay absent."""
-        schema, name = call[1:3]
+        _, schema, name, _ = call
         number = bound[1]
-        place, _, types = self.catalog.thing_of(number)[1:4]
-        self.note(("function", place, name, types, number))
+        _, place, _, types, _ = self.catalog.thing_of(number)
+        self.entries[("function", place, name, types, number)] = True
         if schema is None:
             for ahead in path[:path.index(place)]:
-                self.note(("unmade", ahead, name, types))
+                self.entries[("unmade", ahead, name, types)] = True
         schemas = path if schema is None else (schema,)
         given = [self.type_of(term, binding) for term in bound[2]]
         places = places_cast(self.catalog, types, given)
-        for other in type_lists(self.catalog, len(types)):
-            others = places_cast(self.catalog, other, given)
-            if other != types and others is not None and not are_fewer(places, others):
+        for other in fitting_lists(self.catalog, given):
+            if other != types and not are_fewer(places, places_cast(self.catalog, other, given)):
                 for at in schemas:
-                    self.note(("unmade", at, name, other))
+                    self.entries[("unmade", at, name, other)] = True
 
     def type_of(self, term, binding):
         """Return the type of a term of a binding, or None for a value."""
@@ -106,17 +115,29 @@ class Watcher:
             return self.catalog.thing_of(term[2])[3]
         return self.type_of(rest[1][term[2]][1], rest)
 
+    def watched(self):
+        """Return the ascending list of the entries."""
+        if not self.whole:
+            return sorted(self.entries)
+        # The columns of a table tell each one of them, and that there is no other one.
+        needless = [entry for entry in self.entries if entry[0] in ("column", "bare") and entry[1] in self.whole]
+        for entry in needless:
+            del self.entries[entry]
+        return sorted(self.entries)
+
 
 def watch_of(catalog, statement, path, role):
     """Return the watch of a statement that binds, for a path and a role."""
-    binding = binding_of(catalog, statement, path, role)
+    return watch_with(catalog, statement, path, role, binding_of(catalog, statement, path, role))
+
+
+def watch_with(catalog, statement, path, role, binding):
+    """Return the watch of a statement, with its binding."""
     watcher = Watcher(catalog, role)
     watcher.watch(statement, path, binding)
-    for source in binding[2]:
-        watcher.note(("right", role, source[1]))
-    whole = [entry[1] for entry in watcher.entries if entry[0] == "columns"]
-    # The columns of a table tell each one of them, and that there is no other one.
-    return sorted([entry for entry in watcher.entries if entry[0] not in ("column", "bare") or entry[1] not in whole])
+    for _, number, _ in binding[2]:
+        watcher.entries[("right", role, number)] = True
+    return watcher.watched()
 
 
 def is_entry(thing):
@@ -127,61 +148,87 @@ def is_entry(thing):
 def holds(catalog, entry):
     """Return whether an entry holds."""
     test = TESTS[entry[0]]
-    return test(catalog, entry[1:])
+    return test(catalog, entry)
 
 
-def stands_at(catalog, parts):
-    """Return whether ("at", schema, name, number) holds."""
-    schema, name, number = parts
-    return catalog.standing_at(schema, name) == number
+def is_true(catalog, thing):
+    """Return whether any object is an entry that holds."""
+    if not begins_with_word(thing) or thing[0] not in TESTS:
+        return False
+    test = TESTS[thing[0]]
+    return test(catalog, thing)
 
 
-def is_free(catalog, parts):
-    """Return whether ("free", schema, name) holds."""
-    schema, name = parts
-    return catalog.standing_at(schema, name) is None
+# Each of these takes any tuple that begins with its word. Where something stands
+# or is had, its names and numbers are names and numbers; where nothing is, they are looked at.
 
 
-def has_column(catalog, parts):
-    """Return whether ("column", table, name, number) holds."""
-    table, name, number = parts
-    return catalog.column_of(table, name) == number
+def stands_at(catalog, thing):
+    """Return whether a tuple is ("at", schema, name, number), and holds."""
+    return len(thing) == 4 and is_number(thing[3]) and catalog.standing_at(thing[1], thing[2]) == thing[3]
 
 
-def is_bare(catalog, parts):
-    """Return whether ("bare", table, name) holds: not so if there is no such table."""
-    table, name = parts
-    return catalog.is_table(table) and catalog.column_of(table, name) is None
+def is_free(catalog, thing):
+    """Return whether a tuple is ("free", schema, name), and holds."""
+    return (
+        len(thing) == 3
+        and is_name(thing[1])
+        and is_name(thing[2])
+        and catalog.standing_at(thing[1], thing[2]) is None
+    )
 
 
-def has_columns(catalog, parts):
-    """Return whether ("columns", table, pairs) holds."""
-    table, pairs = parts
-    return catalog.is_table(table) and tuple(catalog.columns_of(table)) == pairs
+def has_column(catalog, thing):
+    """Return whether a tuple is ("column", table, name, number), and holds."""
+    return len(thing) == 4 and is_number(thing[3]) and catalog.column_of(thing[1], thing[2]) == thing[3]
 
 
-def has_function(catalog, parts):
-    """Return whether ("function", schema, name, types, number) holds."""
-    schema, name, types, number = parts
-    return catalog.function_at(schema, name, types) == number
+def is_bare(catalog, thing):
+    """Return whether a tuple is ("bare", table, name), and holds: not so if there is no such table."""
+    return (
+        len(thing) == 3
+        and is_name(thing[2])
+        and catalog.is_table(thing[1])
+        and catalog.column_of(thing[1], thing[2]) is None
+    )
 
 
-def is_unmade(catalog, parts):
-    """Return whether ("unmade", schema, name, types) holds."""
-    schema, name, types = parts
-    return catalog.function_at(schema, name, types) is None
+def has_columns(catalog, thing):
+    """Return whether a tuple is ("columns", table, pairs), and holds."""
+    return len(thing) == 3 and catalog.is_table(thing[1]) and is_same(thing[2], catalog.named_columns_of(thing[1]))
 
 
-def has_right(catalog, parts):
-    """Return whether ("right", role, number) holds."""
-    role, number = parts
-    return catalog.has_right(role, number)
+def has_function(catalog, thing):
+    """Return whether a tuple is ("function", schema, name, types, number), and holds."""
+    return (
+        len(thing) == 5
+        and is_number(thing[4])
+        and catalog.function_at(thing[1], thing[2], thing[3]) == thing[4]
+    )
 
 
-def has_rule(catalog, parts):
-    """Return whether ("rule", role, table, rule) holds: not so if there is no such table."""
-    role, table, rule = parts
-    return catalog.is_table(table) and catalog.rule_for(role, table) == rule
+def is_unmade(catalog, thing):
+    """Return whether a tuple is ("unmade", schema, name, types), and holds."""
+    return (
+        len(thing) == 4
+        and is_name(thing[1])
+        and is_name(thing[2])
+        and is_type_list(thing[3])
+        and catalog.function_at(thing[1], thing[2], thing[3]) is None
+    )
+
+
+def has_right(catalog, thing):
+    """Return whether a tuple is ("right", role, number), and holds."""
+    return len(thing) == 3 and catalog.has_right(thing[1], thing[2])
+
+
+def has_rule(catalog, thing):
+    """Return whether a tuple is ("rule", role, table, rule), and holds: not so if there is no such table."""
+    if len(thing) != 4 or not is_name(thing[1]) or not catalog.is_table(thing[2]):
+        return False
+    rule = catalog.rule_for(thing[1], thing[2])
+    return thing[3] is None if rule is None else is_same(thing[3], rule)
 
 
 TESTS = {
