@@ -52,9 +52,8 @@ class Binder:
         and the type. Calls is a dict of the names of those that are calls.
         """
         found = []
-        self.part = "source"
         for index, (schema, name, label) in enumerate(sources):
-            self.index = index
+            self.part, self.index = "source", index
             number = meant(self.catalog, path, schema, name)
             if number is None:
                 raise Unknown("nothing stands there")
@@ -65,7 +64,6 @@ class Binder:
                 found.append((label, bound, self.catalog.columns_of(number), {}))
             else:
                 found.append((label,) + self.open_view(number))
-                self.part, self.index = "source", index
         return found
 
     def open_view(self, number):

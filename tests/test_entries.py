@@ -164,6 +164,41 @@ class EnoughTest(EntriesCase):
                 if thing != []:
                     self.assertEqual(raised(call, *self.arguments, thing), "InvalidEntry")
 
+    def test_numbers_that_are_true_or_false(self):
+        catalog = catalog_of(*function("main.f", "text"), *function("main.g", "text"), *table("main.t", "x", "boss"))
+        arguments = (catalog, read("select f(g(x)) as a from t"), PATH, ROLE)
+        watch = watch_of(*arguments)
+        for name, number, wrong in [("f", 0, False), ("g", 1, True)]:
+            entry = ("function", "main", name, ("text",), number)
+            self.assertIn(entry, watch)
+            self.assertIsNone(raised(is_enough, *arguments, [entry]))
+            self.assertEqual(raised(is_enough, *arguments, [entry[:4] + (wrong,)]), "InvalidEntry")
+            self.assertEqual(raised(breaking_deed, *arguments, entry[:4] + (wrong,)), "InvalidEntry")
+        catalog = catalog_of(*table("main.t", "x", "boss"))
+        for entry in watch_of(catalog, read("select t.*, t.x from t"), PATH, ROLE) + [("column", 0, "x", 1), ("bare", 0, "y")]:
+            self.assertIs(holds(catalog, entry), True)
+            for at, part in enumerate(entry):
+                if type(part) is int:
+                    wrong = entry[:at] + (bool(part),) + entry[at + 1:]
+                    self.assertEqual(raised(is_enough, catalog, read("select x from t"), PATH, ROLE, [wrong]), "InvalidEntry", wrong)
+        self.assertEqual(raised(is_enough, catalog, read("select x from t"), PATH, ROLE, [("columns", 0, (("x", True),))]), "InvalidEntry")
+        self.assertIsNone(raised(is_enough, catalog, read("select x from t"), PATH, ROLE, [("columns", 0, (("x", 1),))]))
+
+    def test_entries_with_a_part_changed(self):
+        others = [("rule", "kim", 0, None), ("rule", "boss", 0, None), ("columns", 0, (("x", 1), ("y", 2))), ("unmade", "own", "f", ("text", "text"))]
+        seen = {True: 0, False: 0}
+        catalog = self.arguments[0]
+        for entry in self.watch + [other for other in others if other not in self.watch]:
+            self.assertIs(holds(catalog, entry), True, entry)
+            for thing in samples.variants(entry) + [entry + (part,) for part in (None, 0, "a", ())]:
+                right = is_entry(thing) and holds(catalog, thing)
+                seen[right] += 1
+                for call in (is_enough, parting_deed, lambda *arguments: is_parting(*arguments, None)):
+                    self.assertEqual(raised(call, *self.arguments, [thing]), None if right else "InvalidEntry", thing)
+                if not right:
+                    self.assertEqual(raised(breaking_deed, *self.arguments, thing), "InvalidEntry", thing)
+        self.assertGreater(min(seen.values()), 100, seen)
+
     def test_worlds(self):
         seen = {True: 0, False: 0}
         source = random.Random(1)

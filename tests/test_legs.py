@@ -79,6 +79,24 @@ class LegsTest(LegsCase):
         leg = [(T, ("ref", (1,), U, (6,))), (U, ("key", (6,))), (U, ("ref", (5,), V, (9,))), (V, ("key", (9,)))]
         self.check(catalog, one, two, [leg], [[pair] for pair in leg])
 
+    def test_tables_that_stand_in_no_plan(self):
+        catalog = with_facts(("v", key("x")), ("u", key("y")), ("u", ref("x", "v", "x")), ("t", ref("x", "u", "y")))
+        leg = [(T, ("ref", (1,), U, (6,))), (U, ("key", (6,))), (U, ("ref", (5,), V, (9,))), (V, ("key", (9,)))]
+        one, two = distinct(ONLY_T), distinct(plain((0,), (T, ((1, 0),)), (V, ()), lists=(None,)))
+        self.check(catalog, one, two, [leg], [[pair] for pair in leg])
+        catalog = with_facts(("v", key("x")), ("v", ("in", "x", ("a",))), ("u", key("y")), ("u", ref("y", "v", "x")), ("t", ref("x", "u", "y")))
+        leg = [(T, ("ref", (1,), U, (6,))), (U, ("key", (6,))), (U, ("ref", (6,), V, (9,))), (V, ("in", 9, ("a",))), (V, ("key", (9,)))]
+        self.check(catalog, ONLY_T, plain(("a",), (T, ((1, "a"),))), [leg], [[pair] for pair in leg])
+
+    def test_only_keys_take_references_along(self):
+        # The columns of the reference of u are those of the key to which t refers.
+        catalog = with_facts(("v", key("x")), ("u", key("x")), ("u", ref("x", "v", "x")), ("t", ref("x", "u", "x")), ("u", ("in", "x", ("a", "b"))))
+        leg = [(T, ("ref", (1,), U, (5,))), (U, ("key", (5,)))]
+        self.check(catalog, ONLY_T, plain((0,), (T, ((1, 0),)), (U, ((5, 0),)), lists=(None,)), [leg], [[pair] for pair in leg])
+        catalog = with_facts(("v", key("x")), ("u", key("x")), ("u", ref("x", "v", "x")), ("t", ref("x", "u", "x")), ("t", ref("y", "v", "x")))
+        leg = [(T, ("ref", (1,), U, (5,))), (T, ("ref", (2,), V, (9,))), (U, ("key", (5,))), (V, ("key", (9,)))]
+        self.check(catalog, ONLY_T, plain((0,), (T, ((1, 0), (2, 1))), (U, ((5, 0),)), (V, ((9, 1),)), lists=NONE2), [leg], [[pair] for pair in leg])
+
     def test_the_order_in_which_facts_are_left_out(self):
         # Either list of one value makes the class this value; the others never do.
         catalog = with_facts(("t", ("in", "x", ("a",))), ("t", ("in", "x", ("a", "b"))), ("v", ("in", "x", ("a",))), ("v", ("in", "x", ("a", "b"))))

@@ -7,7 +7,7 @@ import unittest
 
 from boundonce.cases import cases_of
 from boundonce.leaning import lean_plan
-from boundonce.likeness import alike
+from boundonce.likeness import alike, tells_once
 from boundonce.papers import is_paper, paper_for
 from tests import checking, samples, slow, worlds
 from tests.test_cases import key, ref, with_facts
@@ -157,6 +157,69 @@ class CasesTest(PaperCase):
             right = all([checking.best_form(paper[1][at]) == checking.best_form(paper[2][other]) for at, other in enumerate(rows)])
             self.assertIs(self.check_thing(catalog, one, one, ("cases", paper[1], paper[2], pairs)), right)
 
+    def test_told_leads_to_told(self):
+        # Of V with a and b one tells the first, the other one the second: the rows are the same, but not what is told.
+        catalog = with_facts()
+        one = plain((0,), (V, ((9, 0),)), (V, ((9, 1),)), lists=(("a", "b"), ("a", "b")))
+        _, ones, twos, _ = self.check_paper(catalog, one, one)
+        right = 0
+        for order in itertools.permutations(range(4)):
+            for turns in itertools.product(([0, 1], [1, 0]), repeat=4):
+                pairs = [(at, other, list(turn)) for at, (other, turn) in enumerate(zip(order, turns))]
+                right += self.check_thing(catalog, one, one, ("cases", ones, twos, pairs))
+        self.assertEqual(right, 4)
+        # Plans that tell other values, with all else as it should be.
+        one, two = plain(("a",), (V, ())), plain(("b",), (V, ()))
+        cases = [cases_of(catalog, one), cases_of(catalog, two)]
+        self.check_wrong(catalog, one, two, ("cases", *cases, [(0, 0, [0])]))
+        self.check_wrong(catalog, distinct(one), distinct(two), ("ways", *cases, [[0]], [[0]]))
+        self.check_wrong(with_facts(("v", key("x")), ("v", ("in", "x", ("a",)))), distinct(one), two, ("once", ("ways", *cases, [[0]], [[0]])))
+
+    def test_rows_lead_to_rows_of_the_same_table_one_for_one(self):
+        catalog = with_facts()
+        one = plain((0, 1, 2), (T, ((1, 0), (2, 1), (3, 2))), (U, ((5, 0), (6, 1), (7, 2))), lists=NONE3)
+        head, ones, twos, pairs = self.check_paper(catalog, one, one)
+        self.assertEqual(pairs, [(0, 0, [0, 1])])
+        self.check_wrong(catalog, one, one, (head, ones, twos, [(0, 0, [1, 0])]))
+        ways = self.check_paper(catalog, distinct(one), distinct(one))
+        self.check_wrong(catalog, distinct(one), distinct(one), ("ways", ones, twos, [[1, 0]], ways[4]), ("ways", ones, twos, ways[3], [[1, 0]]))
+        one = plain(("c",), (V, ((9, "a"),)), (V, ((9, "a"),)))
+        _, ones, twos, _ = self.check_paper(catalog, one, one)
+        self.check_right(catalog, one, one, *[("cases", ones, twos, [(0, 0, rows)]) for rows in ([0, 1], [1, 0])])
+        self.check_wrong(catalog, one, one, *[("cases", ones, twos, [(0, 0, rows)]) for rows in ([0, 0], [1, 1])])
+
+    def test_what_leads_only_one_way(self):
+        # Rows with a class each lead to rows with one class or with a value, but not back.
+        catalog = with_facts()
+        many, one, value = [plain(("c",), *[(V, ((9, term),) if term is not None else ()) for term in terms], lists=lists) for terms, lists in [((None, None), ()), ((0, 0), (None,)), (("a", "a"), ())]]
+        for first, second in itertools.permutations([many, one, value], 2):
+            self.assertIsNone(self.check_paper(catalog, first, second))
+            cases = [cases_of(catalog, first), cases_of(catalog, second)]
+            self.check_wrong(catalog, first, second, *[("cases", *cases, [(0, 0, rows)]) for rows in ([0, 1], [1, 0], [0, 0])])
+        told = [slow.renumbered(plain((term, 0), (V, ((9, 0),)), lists=(None,))) for term in (0, "a", ("call", F, (0,)), ("call", F, ("a",)))]
+        for first, second in itertools.permutations(told, 2):
+            cases = [cases_of(catalog, first), cases_of(catalog, second)]
+            self.check_wrong(catalog, first, second, ("cases", *cases, [(0, 0, [0])]))
+            self.check_wrong(catalog, distinct(first), distinct(second), ("ways", *cases, [[0]], [[0]]))
+
+    def test_rows_that_are_equal(self):
+        rows = [(V, ((9, "a"),))] * 3 + [(T, ((1, 0),))]
+        for order in itertools.permutations(range(4)):
+            self.check_paper(with_facts(), plain((0,), *rows, lists=(None,)), plain((0,), *[rows[at] for at in order], lists=(None,)))
+
+    def test_cases_that_are_the_same_are_paired_once_each(self):
+        catalog = with_facts(("v", key("x")))
+        one = plain(("c",), (V, ((9, "a"),)), (V, ((9, "b"),)), (V, ((9, 0),)), lists=(("a", "b"),))
+        _, ones, twos, pairs = self.check_paper(catalog, one, one)
+        self.assertEqual([len(ones), len(pairs)], [2, 2])
+        self.assertEqual(checking.best_form(ones[0]), checking.best_form(ones[1]))
+        rows = {(at, other): [[row[1][0] for row in twos[other][1]].index(row[1][0]) for row in ones[at][1]] for at in range(2) for other in range(2)}
+        for size in (1, 2, 3):
+            for places in itertools.product(rows, repeat=size):
+                thing = ("cases", ones, twos, [(at, other, rows[at, other]) for at, other in places])
+                right = sorted([at for at, _ in places]) == [0, 1] and sorted([other for _, other in places]) == [0, 1]
+                self.assertIs(self.check_thing(catalog, one, one, thing), right)
+
     def test_no_cases(self):
         one, two = plain((0,), (V, ((9, 0),)), lists=((),)), plain(("a", "b"), (T, ((1, 0),)), lists=((),))
         self.assertEqual(self.check_paper(with_facts(), one, two), ("cases", [], [], []))
@@ -232,6 +295,13 @@ class WaysTest(PaperCase):
         ways = self.check_paper(with_facts(), distinct(one), distinct(one))
         self.check_wrong(with_facts(), one, distinct(one), ("once", ways))
         self.check_wrong(with_facts(), distinct(one), one, ("once", ways))
+        # It matters of the plan that is not distinct alone whether it tells each row once.
+        more = plain((0,), (T, ((1, 0),)), (T, ()), lists=(None,))
+        self.assertEqual([tells_once(catalog, one), tells_once(catalog, more)], [True, False])
+        for first, second, there in [(one, distinct(more), True), (distinct(more), one, True), (more, distinct(one), False), (distinct(one), more, False)]:
+            self.assertIs(self.check_paper(catalog, first, second) is not None, there)
+            ways = paper_for(catalog, distinct(first), distinct(second))
+            self.assertIs(self.check_thing(catalog, first, second, ("once", ways)), there)
         # Each row is told once, but the ways are not there.
         other = distinct(plain((0,), (T, ((1, 0),)), (V, ()), lists=(None,)))
         self.assertIsNone(self.check_paper(catalog, one, other))

@@ -195,6 +195,8 @@ class WordsTest(ShellTest):
                     self.check_raised(" ".join(words[:at] + [word] + words[at:]), "InvalidLine")
             for at in range(len(words) if len(words) < 6 else 4):
                 self.check_raised(" ".join(words[:at] + words[at + 1:]), "InvalidLine")
+            for at in range(len(words)):
+                self.check_raised(" ".join(words[:at] + [""] + words[at + 1:]), "InvalidLine")
             for other in [line + " ", " " + line, line.replace(" ", "  ", 1), line.replace(" ", "\t", 1), line.replace(" ", "\n", 1), line.upper(), line[1:]]:
                 self.check_raised(other, "InvalidLine")
 
