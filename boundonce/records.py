@@ -1,8 +1,9 @@
 """Records of what was done to caches, and caches behind what is recorded."""
 
+from boundonce.cachecalls import called, is_call
 from boundonce.caches import Cache
 from boundonce.errors import BoundError
-from boundonce.forms import is_same
+from boundonce.forms import begins_with_word, is_same
 
 
 class Recorder(Cache):
@@ -58,57 +59,6 @@ class Recorder(Cache):
         return result
 
 
-def enter(recorder, arguments):
-    """Do a recorded enter."""
-    name, path, role = arguments
-    return recorder.enter(name, path, role)
-
-
-def leave(recorder, arguments):
-    """Do a recorded leave."""
-    return recorder.leave(arguments[0])
-
-
-def perform(recorder, arguments):
-    """Do a recorded perform."""
-    name, deed = arguments
-    return recorder.perform(name, deed)
-
-
-def begin(recorder, arguments):
-    """Do a recorded begin."""
-    return recorder.begin(arguments[0])
-
-
-def commit(recorder, arguments):
-    """Do a recorded commit."""
-    return recorder.commit(arguments[0])
-
-
-def revert(recorder, arguments):
-    """Do a recorded revert."""
-    return recorder.revert(arguments[0])
-
-
-def ask(recorder, arguments):
-    """Do a recorded ask."""
-    name, statement = arguments
-    return recorder.ask(name, statement)
-
-
-CALLS = {
-    "enter": enter,
-    "leave": leave,
-    "perform": perform,
-    "begin": begin,
-    "commit": commit,
-    "revert": revert,
-    "ask": ask,
-}
-
-SIZES = {"enter": 3, "leave": 1, "perform": 2, "begin": 1, "commit": 1, "revert": 1, "ask": 2}
-
-
 def is_record(catalog, thing):
     """Return whether any object is the record of some calls of a new recorder of a catalog."""
     if not isinstance(thing, list):
@@ -122,26 +72,20 @@ def is_record(catalog, thing):
 
 def repeats(recorder, thing):
     """Do a call, any object, as it is recorded; return whether this is just what is recorded then."""
-    if not isinstance(thing, tuple) or len(thing) != 3 or not isinstance(thing[0], str) or thing[0] not in SIZES:
+    if not begins_with_word(thing) or len(thing) != 3:
         return False
     word, arguments, result = thing
-    if not isinstance(arguments, tuple) or len(arguments) != SIZES[word]:
+    if not is_call(word, arguments):
         return False
     try:
-        return is_same(result, do(recorder, word, arguments))
+        return is_same(result, called(recorder, word, arguments))
     except BoundError:
         return False
-
-
-def do(recorder, word, arguments):
-    """Do a recorded call, and return its result."""
-    action = CALLS[word]
-    return action(recorder, arguments)
 
 
 def replayed(catalog, record):
     """Return a recorder behind the calls of a record."""
     recorder = Recorder(catalog)
     for word, arguments, _ in record:
-        do(recorder, word, arguments)
+        called(recorder, word, arguments)
     return recorder

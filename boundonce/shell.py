@@ -1,6 +1,7 @@
 """A shell: caches by name, and lines that tell what is done to them and asked of them."""
 
 from boundonce.bindings import binding_of
+from boundonce.cachecalls import called
 from boundonce.caches import Cache
 from boundonce.catalogs import Catalog
 from boundonce.deedtexts import write_entry
@@ -29,45 +30,12 @@ class Shell:
             return "done"
         if name not in self._caches:
             raise UnknownName("no cache has this name")
-        execute = LINES[word]
         cache = self._caches[name]
-        return execute(cache, *arguments)
-
-
-def run_enter(cache, session, path, role):
-    """Execute "enter"."""
-    cache.enter(session, path, role)
-    return "done"
-
-
-def run_leave(cache, session):
-    """Execute "leave"."""
-    cache.leave(session)
-    return "done"
-
-
-def run_begin(cache, session):
-    """Execute "begin"."""
-    cache.begin(session)
-    return "done"
-
-
-def run_commit(cache, session):
-    """Execute "commit"."""
-    cache.commit(session)
-    return "done"
-
-
-def run_revert(cache, session):
-    """Execute "revert"."""
-    cache.revert(session)
-    return "done"
-
-
-def run_perform(cache, session, deed):
-    """Execute "perform"."""
-    cache.perform(session, deed)
-    return "done"
+        if word not in ASKING:
+            called(cache, word, arguments)
+            return "done"
+        asking = ASKING[word]
+        return asking(cache, *arguments)
 
 
 def run_ask(cache, session, statement):
@@ -115,13 +83,7 @@ def plan_for(cache, session, statement):
     return plan_of(catalog, binding_of(catalog, statement, path, role))
 
 
-LINES = {
-    "enter": run_enter,
-    "leave": run_leave,
-    "begin": run_begin,
-    "commit": run_commit,
-    "revert": run_revert,
-    "perform": run_perform,
+ASKING = {
     "ask": run_ask,
     "watch": run_watch,
     "alike": run_alike,
