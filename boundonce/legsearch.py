@@ -31,7 +31,7 @@ class LegSearch:
 
     def facts_in(self, marks):
         """Return the ascending list of the facts with these marks."""
-        return [pair for at, pair in enumerate(self.facts) if marks >> at & 1]
+        return [pair for at, pair in enumerate(self.facts) if (marks >> at) & 1]
 
     def listed(self, found):
         """Return the ascending list of the lists of facts with marks of a list."""
@@ -59,7 +59,7 @@ class LegSearch:
         """Return the marks of all facts but those of an end, and the references to keys among them."""
         marks = self.all_marks
         for at in range(len(self.facts)):
-            if end >> at & 1:
+            if (end >> at) & 1:
                 marks = self.without(marks, at)
         return marks
 
